@@ -1,0 +1,169 @@
+"""What the tests share: a base class, random markets, and answers found by going through everything."""
+
+import itertools
+import random
+import unittest
+
+from keptparts.markets import Join, Lap
+
+
+class Case(unittest.TestCase):
+    """A test case that can look at the errors of the package."""
+
+    def fails(self, error, fields, function, *args, **more):
+        """The call raises exactly this error with exactly these fields; the error is returned."""
+        with self.assertRaises(error) as caught:
+            function(*args, **more)
+        told = caught.exception
+        self.assertIs(type(told), error)
+        self.assertEqual(repr(vars(told)), repr(fields))
+        return told
+
+    def same(self, one, other):
+        """The two are equal, also in their kinds (True is not 1, a list is no tuple)."""
+        self.assertEqual(repr(one), repr(other))
+
+
+NO_INTEGERS = (True, False, None, "1", 1.0, (1,), [1], b"1")
+NO_ROWS = (True, None, "01", 7, {0: 1}, {0}, b"01", range(2))
+
+
+def all_sets(parts):
+    """All sets of parts, as tuples."""
+    parts = tuple(parts)
+    return [chosen for size in range(len(parts) + 1) for chosen in itertools.combinations(parts, size)]
+
+
+def covers(market, chosen):
+    """The covers of a set of parts, counted place by place."""
+    return tuple(
+        sum(1 for part in chosen if market.runs[part][0] <= place < market.runs[part][1])
+        for place in range(market.size)
+    )
+
+
+def row_of(market, demand):
+    """The demand as a row."""
+    return (demand,) * market.size if isinstance(demand, int) else tuple(demand)
+
+
+def is_a_stock(market, demand, chosen):
+    """Whether a set of parts is a stock, by the words of the document."""
+    if any(part in market.gone for part in chosen):
+        return False
+    pairs = zip(covers(market, chosen), row_of(market, demand))
+    if market.KIND == "join":
+        return all(count == number for count, number in pairs)
+    return all(count >= number for count, number in pairs)
+
+
+def stocks(market, demand):
+    """All stocks of a demand, ascending."""
+    there = [part for part in range(len(market.runs)) if part not in market.gone]
+    return sorted(chosen for chosen in all_sets(there) if is_a_stock(market, demand, chosen))
+
+
+def steps(market, demand, stock):
+    """All steps of a stock, by the words of the document."""
+    found = []
+    for part, (begin, end) in enumerate(market.runs):
+        if part not in market.gone:
+            found.append((end, begin, part) if part in stock else (begin, end, part))
+    if market.KIND == "lap":
+        counts = covers(market, stock)
+        for place, number in enumerate(row_of(market, demand)):
+            found.append((place + 1, place, -1))
+            if counts[place] > number:
+                found.append((place, place + 1, -1))
+    return sorted(found)
+
+
+def move(row):
+    """The move of a row of steps."""
+    outs = tuple(sorted(part for start, end, part in row if part >= 0 and start > end))
+    ins = tuple(sorted(part for start, end, part in row if part >= 0 and start < end))
+    return outs, ins
+
+
+def walk_rows(found, start, goal):
+    """All rows of steps from one point to another that meet no point twice."""
+    rows = []
+
+    def go_on(point, met, row):
+        if point == goal:
+            rows.append(row)
+            return
+        for step in found:
+            if step[0] == point and step[1] not in met:
+                go_on(step[1], met | {step[1]}, row + (step,))
+
+    go_on(start, {start}, ())
+    return rows
+
+
+def walk_moves(market, demand, stock, start, goal):
+    """The moves of all walks, ascending, each as often as there are walks with it."""
+    return sorted(move(row) for row in walk_rows(steps(market, demand, stock), start, goal))
+
+
+def ring_moves(market, demand, stock):
+    """The moves of all rings, ascending, each once."""
+    found = steps(market, demand, stock)
+    moves = set()
+    for first in found:
+        for row in walk_rows(found, first[1], first[0]):
+            told = move((first,) + row)
+            # There and back over a bare place is no ring.
+            if told != ((), ()):
+                moves.add(told)
+    return sorted(moves)
+
+
+def random_market(seed, kind=None, most_places=4, most_parts=6, gone=True):
+    """A random market; now and then several parts have the same run, or parts are gone."""
+    chance = random.Random(seed)
+    size = chance.randint(1, most_places)
+    runs = []
+    for _ in range(chance.randint(0, most_parts)):
+        if runs and chance.random() < 0.25:
+            runs.append(chance.choice(runs))
+        else:
+            runs.append(tuple(sorted(chance.sample(range(size + 1), 2))))
+    lost = [part for part in range(len(runs)) if gone and chance.random() < 0.15]
+    kind = kind or chance.choice((Join, Lap))
+    return kind(size, runs, gone=lost)
+
+
+def random_demand(seed, market, low=0, high=2):
+    """A random demand: mostly one that a random set of parts is a stock of, or the same for all places."""
+    chance = random.Random(seed)
+    if chance.random() < 0.3:
+        return chance.randint(low, high)
+    if chance.random() < 0.2:
+        return tuple(chance.randint(low - 1, high) for _ in range(market.size))
+    there = [part for part in range(len(market.runs)) if part not in market.gone]
+    chosen = [part for part in there if chance.random() < 0.5]
+    counts = covers(market, chosen)
+    if market.KIND == "lap":
+        counts = tuple(count - chance.choice((0, 0, 1)) for count in counts)
+    return counts
+
+
+def random_cases(many, **more):
+    """Markets with a demand that has a stock, and the list of all its stocks."""
+    seed = 0
+    told = 0
+    while told < many:
+        seed += 1
+        market = random_market(seed, **more)
+        demand = random_demand(seed, market)
+        found = stocks(market, demand)
+        if found:
+            told += 1
+            yield seed, market, demand, found
+
+
+def random_world(seed, market, top=9):
+    """A random world of the market; prices of 0 and equal prices come often."""
+    chance = random.Random(seed)
+    return tuple(chance.choice((0, 1, chance.randint(0, top))) for _ in market.runs)
