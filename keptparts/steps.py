@@ -33,7 +33,7 @@ def steps_from(market, chosen, free):
         else:
             steps.append((begin, end, part))
     if is_lap(market):
-        for place in range(market.size):
+        for place in range(market.size - 1, -1, -1):
             steps.append((place + 1, place, BARE))
         for place in free:
             steps.append((place, place + 1, BARE))
@@ -42,8 +42,8 @@ def steps_from(market, chosen, free):
 
 def move_of(steps):
     """The move of a row of steps: an out leads to the left, an in to the right."""
-    outs = [part for start, end, part in steps if part != BARE and start > end]
-    ins = [part for start, end, part in steps if part != BARE and start < end]
+    outs = [step[2] for step in steps if step[2] >= 0 and step[0] > step[1]]
+    ins = [step[2] for step in steps if step[2] >= 0 and step[0] < step[1]]
     return tuple(sorted(outs)), tuple(sorted(ins))
 
 

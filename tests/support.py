@@ -19,6 +19,19 @@ class Case(unittest.TestCase):
         self.assertEqual(repr(vars(told)), repr(fields))
         return told
 
+    def order(self, function, rights, faults):
+        """Faults are (index, wrong value, error, fields) in the order in which they are told.
+
+        Each one alone raises its error; of two at different arguments the earlier one is raised.
+        """
+        for k, (index, value, error, fields) in enumerate(faults):
+            for later_index, later_value in [(None, None)] + [fault[:2] for fault in faults[k + 1:]]:
+                arguments = list(rights)
+                if later_index not in (None, index):
+                    arguments[later_index] = later_value
+                arguments[index] = value
+                self.fails(error, fields, function, *arguments)
+
     def same(self, one, other):
         """The two are equal, also in their kinds (True is not 1, a list is no tuple)."""
         self.assertEqual(repr(one), repr(other))
@@ -106,17 +119,22 @@ def walk_moves(market, demand, stock, start, goal):
     return sorted(move(row) for row in walk_rows(steps(market, demand, stock), start, goal))
 
 
-def ring_moves(market, demand, stock):
-    """The moves of all rings, ascending, each once."""
+def ring_rows(market, demand, stock):
+    """For the move of each ring its steps."""
     found = steps(market, demand, stock)
-    moves = set()
+    rows = {}
     for first in found:
         for row in walk_rows(found, first[1], first[0]):
             told = move((first,) + row)
             # There and back over a bare place is no ring.
             if told != ((), ()):
-                moves.add(told)
-    return sorted(moves)
+                rows[told] = (first,) + row
+    return rows
+
+
+def ring_moves(market, demand, stock):
+    """The moves of all rings, ascending, each once."""
+    return sorted(ring_rows(market, demand, stock))
 
 
 def random_market(seed, kind=None, most_places=4, most_parts=6, gone=True):
@@ -161,6 +179,43 @@ def random_cases(many, **more):
         if found:
             told += 1
             yield seed, market, demand, found
+
+
+def random_stock(seed, market):
+    """A random set of parts that are there, and a demand that it is a stock of."""
+    chance = random.Random(seed)
+    there = [part for part in range(len(market.runs)) if part not in market.gone]
+    chosen = tuple(part for part in there if chance.random() < 0.5)
+    counts = covers(market, chosen)
+    if market.KIND == "lap":
+        counts = tuple(count - chance.choice((0, 0, 1, 2)) for count in counts)
+    return chosen, counts
+
+
+def great_market(seed, kind=None, gone=4):
+    """A market of 30 places and 60 parts, some of them gone."""
+    chance = random.Random(seed)
+    runs = []
+    for _ in range(60):
+        begin = chance.randint(0, 29)
+        runs.append((begin, chance.randint(begin + 1, 30 if seed % 3 else min(30, begin + 6))))
+    kind = kind or (Join, Lap)[seed % 2]
+    return kind(30, runs, gone=chance.sample(range(60), gone))
+
+
+def behind(stock, told):
+    """The stock behind a move."""
+    return tuple(sorted(set(stock) - set(told[0]) | set(told[1])))
+
+
+def parts_of(moves):
+    """All outs and all ins of several moves, each as a sorted list."""
+    return sorted(part for told in moves for part in told[0]), sorted(part for told in moves for part in told[1])
+
+
+def price(world, parts):
+    """The sum of the prices of some parts."""
+    return sum(world[part] for part in parts)
 
 
 def random_world(seed, market, top=9):

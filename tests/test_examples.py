@@ -20,6 +20,43 @@ BEHIND_15 = """
 'lap 2\\n0 2\\n0 1 gone\\n'
 """
 
+BEHIND_28 = """
+>>> from keptparts.markets import Join
+>>> from keptparts.rings import rings, growing_ways
+>>> market = Join(3, [(0, 1), (1, 2), (2, 3), (0, 2), (1, 3), (0, 3)])
+>>> [list(rings(market, 1, [5])), list(growing_ways(market, 1, [0, 1, 2]))]
+[[((5,), (0, 1, 2)), ((5,), (0, 4)), ((5,), (2, 3))], [((), (5,)), ((1,), (3, 4))]]
+
+>>> from keptparts.markets import Join, Lap
+>>> from keptparts.cuts import strength, state_of, leaving
+>>> runs = [(0, 2), (0, 1), (1, 3)]
+>>> [strength(Join(3, runs)), strength(Lap(3, runs)), state_of(Join(3, runs), 1, 0),
+...     state_of(Lap(3, runs), 1, 0), leaving(Join(3, runs), [0, 2])]
+[1, 1, 'dead', 'loose', (1,)]
+"""
+
+# What needs no tables and no strangers.
+BEHIND_45 = """
+>>> from keptparts.markets import Join
+>>> from keptparts.cheapest import cheapest, price_of
+>>> market = Join(3, [(0, 1), (0, 2), (1, 2), (1, 3), (2, 3)])
+>>> world = (1, 10, 1, 10, 1)
+>>> [cheapest(market, 1, world), price_of(market, 2, world)]
+[(0, 2, 4), 22]
+
+>>> from keptparts.markets import Lap
+>>> from keptparts.heights import Heights, fits, value_of
+>>> market = Lap(2, [(0, 2), (0, 1), (1, 2)])
+>>> heights = Heights([0, 1, 2])
+>>> [fits(market, 1, (3, 1, 1), (1, 2), heights), value_of(market, 1, (3, 1, 1), heights)]
+[True, 2]
+
+>>> from keptparts.heights import Heights
+>>> [(Heights([0, 3, 1]) | Heights([0, 2, 2])).levels, Heights([0, 3, 1]).worth((1, 2)),
+...     Heights([0, 3, 1]).is_rising(), len(-Heights.level(2))]
+[(0, 3, 2), -2, False, 3]
+"""
+
 
 class Examples(unittest.TestCase):
     """The examples of the document, as they stand there."""
@@ -29,11 +66,17 @@ class Examples(unittest.TestCase):
         runner = doctest.DocTestRunner()
         failures = []
         runner.run(test, out=failures.append)
-        self.assertEqual("".join(failures), "")
+        self.assertEqual(failures, [])
         self.assertEqual(sum(bool(example.want) for example in test.examples), many)
 
     def test_behind_15(self):
         self.run_examples(BEHIND_15, 3)
+
+    def test_behind_28(self):
+        self.run_examples(BEHIND_28, 2)
+
+    def test_behind_45(self):
+        self.run_examples(BEHIND_45, 3)
 
 
 if __name__ == "__main__":

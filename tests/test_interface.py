@@ -1,0 +1,90 @@
+import importlib
+import inspect
+import unittest
+
+FUNCTIONS = {
+    "amounts": "plus(one, other) total(row) least(row) at_most(one, other) gap(one, other)",
+    "sets": "set_of(many, parts) both(one, other) common(one, other) minus(one, other) subsets(parts)",
+    "markets": "end_to_end(market, *rest) beside(market, *rest) check_join(market) check_run(market, run)"
+               " part_there(market, part)",
+    "texts": "market_text(market) market_from(text)",
+    "covers": "demand_of(market, demand) cover(market, parts) is_stock(market, demand, parts)"
+              " misfit_place(market, demand, parts) check_stock(market, demand, parts) over(market, demand, parts)"
+              " begins(market, demand) changed(market, demand, run, by)",
+    "halving": "halves(market, parts) lots(market, parts, number) remade(market, one, other)"
+               " shares(market, times, parts)",
+    "steps": "steps_of(market, demand, stock) moved(market, demand, stock, outs, ins) turned_back(move)",
+    "rings": "is_ring(market, demand, stock, outs, ins) is_walk(market, demand, stock, run, outs, ins)"
+             " rings(market, demand, stock) growing_ways(market, demand, stock)"
+             " walks_between(market, demand, stock, run)",
+    "stocks": "some_stock(market, demand) has_stock(market, demand) stocks_of(market, demand)"
+              " beside_stock(market, demand, stock) lean(market, demand, stock)",
+    "differences": "split_rings(market, demand, stock, other) split_run(market, demand, run, stock, other)"
+                   " split_sizes(market, demand, number, stock, other)",
+    "cuts": "strength(market) least_cut(market) leaving(market, points) entering(market, points)"
+            " outflow(market, demand, points) bears(market, losses) lacking(market, demand)"
+            " state_of(market, demand, part) full_points(market, demand, part) blow_at(market, number)",
+    "ways": "ways(market, number, stock) chain_of(market, way) is_way(market, parts)",
+    "walks": "world_of(market, world) move_price(market, world, outs, ins)"
+             " cheaper_ring(market, demand, world, stock) distances(market, demand, world, stock)"
+             " shortest_walk(market, demand, world, stock, run)",
+    "cheapest": "cheapest(market, demand, world) price_of(market, demand, world)"
+                " is_cheapest(market, demand, world, stock) cheapest_stocks(market, demand, world)",
+    "heights": "fits(market, demand, world, stock, heights) fitting(market, demand, world, stock)"
+               " value_of(market, demand, world, heights) held(market, world, heights)"
+               " barred(market, world, heights)",
+}
+METHODS = {
+    ("markets", "Market"): "__init__(self, size, runs, *, gone=()) there(self) run_of(self, part)"
+                           " parts_over(self, run)",
+    ("markets", "Join"): "__init__(self, size, runs, *, gone=()) lose(self, parts) keep(self, parts)"
+                         " and_run(self, run)",
+    ("markets", "Lap"): "__init__(self, size, runs, *, gone=()) lose(self, parts) keep(self, parts)"
+                        " and_run(self, run)",
+    ("heights", "Heights"): "__init__(self, levels) level(size) worth_of(levels, run) worth(self, run)"
+                            " worths(self, market) is_rising(self)",
+}
+GENERATORS = (("sets", "subsets"), ("rings", "rings"), ("rings", "growing_ways"))
+
+
+def told(text):
+    """The names and signatures of a text."""
+    return [(item.split("(")[0], "(" + item.split("(", 1)[1] + ")")
+            for item in text.replace("()", "<>").replace(") ", ")\n").replace(")", "").split("\n")]
+
+
+class Interface(unittest.TestCase):
+    """The names and arguments of the interface."""
+
+    def test_functions(self):
+        for name, text in FUNCTIONS.items():
+            module = importlib.import_module("keptparts." + name)
+            for function, signature in told(text):
+                found = vars(module)[function]
+                self.assertEqual(found.__module__, module.__name__)
+                self.assertEqual(str(inspect.signature(found)), signature, function)
+
+    def test_methods(self):
+        for (name, kind), text in METHODS.items():
+            cls = vars(importlib.import_module("keptparts." + name))[kind]
+            self.assertEqual(cls.__module__, "keptparts." + name)
+            for method, signature in told(text):
+                self.assertIn(method, vars(cls))
+                found = str(inspect.signature(getattr(cls, method)))
+                self.assertEqual(found, signature.replace("<>", "()"), (kind, method))
+
+    def test_properties(self):
+        markets = importlib.import_module("keptparts.markets")
+        self.assertIsInstance(vars(markets.Market)["many"], property)
+        heights = importlib.import_module("keptparts.heights")
+        self.assertIsInstance(vars(heights.Heights)["level"], classmethod)
+        self.assertIsInstance(vars(heights.Heights)["worth_of"], staticmethod)
+
+    def test_generators(self):
+        for name, function in GENERATORS:
+            module = importlib.import_module("keptparts." + name)
+            self.assertTrue(inspect.isgeneratorfunction(vars(module)[function]))
+
+
+if __name__ == "__main__":
+    unittest.main()
