@@ -1,6 +1,6 @@
 """Questions about the form of arguments that several modules ask."""
 
-from keptparts.errors import BadPoint
+from keptparts.errors import BadPoint, BadWorld
 
 
 def is_whole(value):
@@ -51,3 +51,13 @@ def point_pair(market, run):
         if not is_within(point, 0, market.size):
             raise BadPoint(point)
     return tuple(run)
+
+
+def prices_of(many, world):
+    """A world of that many parts as a tuple of prices."""
+    if not is_row(world) or len(world) != many:
+        raise BadWorld(-1)
+    place = first_wrong([is_count(price) for price in world])
+    if place is not None:
+        raise BadWorld(place)
+    return tuple(world)

@@ -105,6 +105,13 @@ def first_fall(heights):
     return first_wrong([levels[place] <= levels[place + 1] for place in range(heights.size)])
 
 
+def check_rising(market, heights):
+    """Raise BadHeights if the market is of the kind lap and the heights fall over a place."""
+    place = first_fall(heights)
+    if is_lap(market) and place is not None:
+        raise BadHeights(place)
+
+
 def fits(market, demand, world, stock, heights):
     """Whether the heights fit the stock in the world."""
     wanted = demand_of(market, demand)
@@ -135,7 +142,11 @@ def fitting(market, demand, world, stock):
     """Some heights that fit the stock, None if it is not cheapest."""
     wanted = demand_of(market, demand)
     prices = world_of(market, world)
-    chosen = check_stock(market, wanted, stock)
+    return heights_for(market, wanted, prices, check_stock(market, wanted, stock))
+
+
+def heights_for(market, wanted, prices, chosen):
+    """Some heights that fit a stock that is not checked, None if it is not cheapest."""
     points = market.size + 1
     levels, _, lowered = spread(points, arcs_of(market, wanted, prices, chosen), list(range(points)))
     if lowered is not None:
@@ -148,9 +159,7 @@ def value_of(market, demand, world, heights):
     wanted = demand_of(market, demand)
     prices = world_of(market, world)
     check_row(market, heights)
-    place = first_fall(heights)
-    if is_lap(market) and place is not None:
-        raise BadHeights(place)
+    check_rising(market, heights)
     levels = heights.levels
     worths = heights.worths(market)
     income = sum([wanted[j] * (levels[j + 1] - levels[j]) for j in range(market.size)])

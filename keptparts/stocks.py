@@ -1,7 +1,7 @@
 """Stocks of a demand: one, all, those one ring away, and lean ones."""
 
 from keptparts.covers import check_stock, covered, demand_of, is_stock_of
-from keptparts.errors import TooMany
+from keptparts.errors import NoStock, TooMany
 from keptparts.flows import cheapest_of
 from keptparts.markets import is_lap
 from keptparts.rings import rings
@@ -21,6 +21,12 @@ def any_stock(market, wanted):
         there = market.there()
         return there if is_stock_of(market, wanted, there) else None
     return cheapest_of(market, wanted, [0] * market.many)
+
+
+def check_has_stock(market, wanted):
+    """Raise NoStock if a demand that is not checked has no stock."""
+    if any_stock(market, wanted) is None:
+        raise NoStock()
 
 
 def has_stock(market, demand):

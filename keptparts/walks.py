@@ -1,8 +1,8 @@
 """Worlds and prices: rings that lower a price, and cheapest walks."""
 
-from keptparts.checks import first_wrong, is_count, is_row, point_pair
+from keptparts.checks import point_pair, prices_of
 from keptparts.covers import check_stock, demand_of
-from keptparts.errors import BadWorld, NotCheapest
+from keptparts.errors import NotCheapest
 from keptparts.flows import priced, round_before, row_to, spread
 from keptparts.sets import set_of
 from keptparts.steps import free_places, move_of, steps_from
@@ -10,12 +10,7 @@ from keptparts.steps import free_places, move_of, steps_from
 
 def world_of(market, world):
     """The world as a tuple of prices."""
-    if not is_row(world) or len(world) != market.many:
-        raise BadWorld(-1)
-    place = first_wrong([is_count(price) for price in world])
-    if place is not None:
-        raise BadWorld(place)
-    return tuple(world)
+    return prices_of(market.many, world)
 
 
 def price_in(prices, parts):
@@ -66,6 +61,11 @@ def distances(market, demand, world, stock):
     prices = world_of(market, world)
     chosen = check_stock(market, wanted, stock)
     check_cheapest(market, wanted, prices, chosen)
+    return walk_prices(market, wanted, prices, chosen)
+
+
+def walk_prices(market, wanted, prices, chosen):
+    """The least prices of walks from each point to each point; the stock is cheapest, not checked."""
     points = market.size + 1
     arcs = arcs_of(market, wanted, prices, chosen)
     return tuple([tuple(spread(points, arcs, [point])[0]) for point in range(points)])
@@ -79,6 +79,12 @@ def shortest_walk(market, demand, world, stock, run):
     first, goal = point_pair(market, run)
     check_stock(market, wanted, chosen)
     check_cheapest(market, wanted, prices, chosen)
+    return cheapest_walk(market, wanted, prices, chosen, (first, goal))
+
+
+def cheapest_walk(market, wanted, prices, chosen, run):
+    """The price and the move of a cheapest walk, None if there is none; the stock is cheapest, not checked."""
+    first, goal = run
     reached, last, _ = spread(market.size + 1, arcs_of(market, wanted, prices, chosen), [first])
     if reached[goal] is None:
         return None

@@ -5,6 +5,7 @@ import random
 import unittest
 
 from keptparts.markets import Join, Lap
+from keptparts.notes import Notes
 
 
 class Case(unittest.TestCase):
@@ -222,3 +223,77 @@ def random_world(seed, market, top=9):
     """A random world of the market; prices of 0 and equal prices come often."""
     chance = random.Random(seed)
     return tuple(chance.choice((0, 1, chance.randint(0, top))) for _ in market.runs)
+
+
+def best_price(world, found):
+    """The least price of some stocks, None if there are none."""
+    return min([price(world, stock) for stock in found], default=None)
+
+
+def best_stocks(world, found):
+    """Those of some stocks that have the least price."""
+    least = best_price(world, found)
+    return [stock for stock in found if price(world, stock) == least]
+
+
+def more_by(market, demand, run, by):
+    """The demand with a number added at each place of the run, as a tuple."""
+    return tuple(number + (by if run[0] <= place < run[1] else 0)
+                 for place, number in enumerate(row_of(market, demand)))
+
+
+def all_runs(size):
+    """All runs of a row."""
+    return list(itertools.combinations(range(size + 1), 2))
+
+
+def random_notes(seed, market, most=24, top=4):
+    """Random notes for the market with at most so many agreeing worlds; gone parts have stretches too."""
+    chance = random.Random(seed)
+    stretches = []
+    number = 1
+    order = list(range(len(market.runs)))
+    chance.shuffle(order)
+    wide = {}
+    for part in order:
+        width = chance.choice((0, 1, 1, 2, 3))
+        if number * (width + 1) > most:
+            width = 0
+        number *= width + 1
+        wide[part] = width
+    for part in range(len(market.runs)):
+        low = chance.choice((0, 1, chance.randint(0, top)))
+        stretches.append((low, low + wide[part]))
+    return Notes(stretches)
+
+
+def agreeing(notes):
+    """All agreeing worlds, ascending."""
+    return list(itertools.product(*[range(low, high + 1) for low, high in notes.stretches]))
+
+
+def great_notes(seed, market, top=10 ** 30):
+    """Notes for a great market: some parts are seen, and some stretches are as wide as can be."""
+    chance = random.Random(seed)
+    stretches = []
+    for _ in market.runs:
+        ends = sorted((chance.randint(0, top), chance.randint(0, top)))
+        stretches.append(chance.choice((tuple(ends), (ends[0], ends[0]), (0, top), (ends[1], ends[1] + 5))))
+    return Notes(stretches)
+
+
+def fit_by_words(market, demand, world, stock, levels):
+    """Whether heights fit, by the words of the document."""
+    for part, (begin, end) in enumerate(market.runs):
+        if part not in market.gone:
+            worth = levels[end] - levels[begin]
+            if worth < world[part] if part in stock else worth > world[part]:
+                return False
+    if market.KIND == "join":
+        return True
+    counts, row = covers(market, stock), row_of(market, demand)
+    for place in range(market.size):
+        rise = levels[place + 1] - levels[place]
+        if rise < 0 or rise > 0 and counts[place] > row[place]:
+            return False
+    return True

@@ -35,26 +35,59 @@ BEHIND_28 = """
 [1, 1, 'dead', 'loose', (1,)]
 """
 
-# What needs no tables and no strangers.
 BEHIND_45 = """
 >>> from keptparts.markets import Join
 >>> from keptparts.cheapest import cheapest, price_of
+>>> from keptparts.tables import Table
 >>> market = Join(3, [(0, 1), (0, 2), (1, 2), (1, 3), (2, 3)])
 >>> world = (1, 10, 1, 10, 1)
->>> [cheapest(market, 1, world), price_of(market, 2, world)]
-[(0, 2, 4), 22]
+>>> table = Table(market, 1, world)
+>>> [cheapest(market, 1, world), price_of(market, 2, world), table.more((0, 3)), table.more((1, 2)),
+...     table.less((0, 3)), table.lowest().levels, table.highest().levels]
+[(0, 2, 4), 22, 19, 9, 3, (0, 1, 2, 3), (0, 9, 10, 19)]
 
 >>> from keptparts.markets import Lap
 >>> from keptparts.heights import Heights, fits, value_of
+>>> from keptparts.strangers import entry, price_with
 >>> market = Lap(2, [(0, 2), (0, 1), (1, 2)])
 >>> heights = Heights([0, 1, 2])
->>> [fits(market, 1, (3, 1, 1), (1, 2), heights), value_of(market, 1, (3, 1, 1), heights)]
-[True, 2]
+>>> [fits(market, 1, (3, 1, 1), (1, 2), heights), value_of(market, 1, (3, 1, 1), heights),
+...     entry(market, 1, (3, 1, 1), (0, 2)), price_with(market, 1, (3, 1, 1), (0, 2), 1)]
+[True, 2, 2, 1]
 
 >>> from keptparts.heights import Heights
 >>> [(Heights([0, 3, 1]) | Heights([0, 2, 2])).levels, Heights([0, 3, 1]).worth((1, 2)),
 ...     Heights([0, 3, 1]).is_rising(), len(-Heights.level(2))]
 [(0, 3, 2), -2, False, 3]
+"""
+
+BEHIND_60 = """
+>>> from keptparts.markets import Join
+>>> from keptparts.notes import Notes
+>>> from keptparts.safety import is_safe, safe_stock
+>>> from keptparts.regrets import regret, misfit
+>>> from keptparts.heights import Heights
+>>> market = Join(3, [(0, 1), (0, 2), (1, 2), (1, 3), (2, 3)])
+>>> notes = Notes([(1, 2), (4, 6), (0, 1), (5, 5), (1, 2)])
+>>> wider = Notes([(1, 2), (1, 6), (0, 1), (5, 5), (1, 2)])
+>>> [is_safe(market, 1, notes, (0, 2, 4)), safe_stock(market, 1, notes), safe_stock(market, 1, wider),
+...     regret(market, 1, wider, (0, 2, 4)), misfit(market, 1, wider, (0, 2, 4), Heights([0, 1, 1, 3]))]
+[True, (0, 2, 4), None, 2, 2]
+
+>>> from keptparts.notes import Notes, worlds, count_worlds, path
+>>> notes = Notes([(0, 1), [3, 3], (5, 6)])
+>>> [list(worlds(notes)), notes.high_on([2]), notes.unseen(), path(notes, (0, 3, 6), (1, 3, 5)),
+...     notes.ask(2, 5).stretches]
+[[(0, 3, 5), (0, 3, 6), (1, 3, 5), (1, 3, 6)], (0, 3, 6), (0, 2), [(0, 3, 6), (1, 3, 6), (1, 3, 5)], ((0, 1), (3, 3), (5, 5))]
+
+>>> from keptparts.markets import Lap
+>>> from keptparts.notes import Notes
+>>> from keptparts.possible import possible_stocks
+>>> from keptparts.regrets import price_ends, world_at
+>>> market = Lap(1, [(0, 1), (0, 1)])
+>>> notes = Notes([(2, 3), (3, 9)])
+>>> [possible_stocks(market, 1, notes), price_ends(market, 1, notes), world_at(market, 1, notes, 4)]
+[[(0,), (1,)], (2, 3), None]
 """
 
 
@@ -77,6 +110,9 @@ class Examples(unittest.TestCase):
 
     def test_behind_45(self):
         self.run_examples(BEHIND_45, 3)
+
+    def test_behind_60(self):
+        self.run_examples(BEHIND_60, 3)
 
 
 if __name__ == "__main__":

@@ -9,7 +9,8 @@ from keptparts.errors import (
 from keptparts.heights import Heights, barred, fits, fitting, held, value_of
 from keptparts.markets import Join, Lap
 from support import (
-    NO_INTEGERS, NO_ROWS, Case, covers, price, random_cases, random_demand, random_market, random_world, row_of,
+    NO_INTEGERS, NO_ROWS, Case, covers, fit_by_words, price, random_cases, random_demand, random_market, random_world,
+    row_of,
 )
 
 NO_RUNS = ((0, 3), (-1, 1), (1, 1), (2, 1), (0,), (0, 1, 2), (0, True), (0, 1.0), None, 5, "01", True)
@@ -18,23 +19,6 @@ NO_RUNS = ((0, 3), (-1, 1), (1, 1), (2, 1), (0,), (0, 1, 2), (0, True), (0, 1.0)
 def random_heights(chance, size, top=9):
     levels = [chance.randint(-2, top) for _ in range(size + 1)]
     return Heights(sorted(levels) if chance.random() < 0.6 else levels)
-
-
-def fit_by_words(market, demand, world, stock, levels):
-    """Whether heights fit, by the words of the document."""
-    for part, (begin, end) in enumerate(market.runs):
-        if part not in market.gone:
-            worth = levels[end] - levels[begin]
-            if worth < world[part] if part in stock else worth > world[part]:
-                return False
-    if market.KIND == "join":
-        return True
-    counts, row = covers(market, stock), row_of(market, demand)
-    for place in range(market.size):
-        rise = levels[place + 1] - levels[place]
-        if rise < 0 or rise > 0 and counts[place] > row[place]:
-            return False
-    return True
 
 
 class Making(Case):

@@ -33,6 +33,21 @@ FUNCTIONS = {
     "heights": "fits(market, demand, world, stock, heights) fitting(market, demand, world, stock)"
                " value_of(market, demand, world, heights) held(market, world, heights)"
                " barred(market, world, heights)",
+    "strangers": "entry(market, demand, world, run) price_with(market, demand, world, run, price)"
+                 " price_with_two(market, demand, world, run, price, other_run, other_price)",
+    "notes": "count_worlds(notes) worlds(notes) path(notes, world, other) check_notes(market, notes)",
+    "safety": "is_safe(market, demand, notes, stock) safe_heights(market, demand, notes, stock)"
+              " unsafe_ring(market, demand, notes, stock) safe_stock(market, demand, notes)"
+              " only_possible(market, demand, notes, stock)",
+    "possible": "is_possible(market, demand, notes, stock) possible_heights(market, demand, notes, stock)"
+                " possible_stocks(market, demand, notes) trail(market, demand, notes, one, other)",
+    "regrets": "regret_in(market, demand, world, stock) regret(market, demand, notes, stock)"
+               " misfit(market, demand, notes, stock, heights) least_misfit(market, demand, notes, stock)"
+               " price_ends(market, demand, notes) world_at(market, demand, notes, number)",
+    "nearest": "nearest_world(market, notes, heights) surely_held(market, notes, heights)"
+               " surely_barred(market, notes, heights)",
+    "critical": "critical_price(market, demand, world, part) critical_ends(market, demand, notes, part)"
+                " end_worlds(market, demand, notes, part)",
 }
 METHODS = {
     ("markets", "Market"): "__init__(self, size, runs, *, gone=()) there(self) run_of(self, part)"
@@ -43,8 +58,16 @@ METHODS = {
                         " and_run(self, run)",
     ("heights", "Heights"): "__init__(self, levels) level(size) worth_of(levels, run) worth(self, run)"
                             " worths(self, market) is_rising(self)",
+    ("tables", "Table"): "__init__(self, market, demand, world) more(self, run) less(self, run)"
+                         " allows(self, heights) between(self, run, number) lowest(self) highest(self)"
+                         " enters(self, part) stays(self, part)",
+    ("notes", "Notes"): "__init__(self, stretches) unknown(many, top) seen_at(world) is_seen(self, part)"
+                        " unseen(self) agrees(self, world) high_on(self, parts) low_on(self, parts)"
+                        " ask(self, part, price) narrow(self, part, low, high) after(self, parts, world)"
+                        " kept_free(self, parts) and_stretch(self, low, high)",
+    ("critical", "Judge"): "__init__(self, market, demand, part) __call__(self, world)",
 }
-GENERATORS = (("sets", "subsets"), ("rings", "rings"), ("rings", "growing_ways"))
+GENERATORS = (("sets", "subsets"), ("rings", "rings"), ("rings", "growing_ways"), ("notes", "worlds"))
 
 
 def told(text):
