@@ -297,3 +297,40 @@ def fit_by_words(market, demand, world, stock, levels):
         if rise < 0 or rise > 0 and counts[place] > row[place]:
             return False
     return True
+
+
+def threshold(world, found, part):
+    """The critical price of a loose part, by the words of the document."""
+    without = min(price(world, stock) for stock in found if part not in stock)
+    return without - min(price(world, stock) - world[part] for stock in found if part in stock)
+
+
+def loose_parts(market, found):
+    """The parts that some, but not all, of the stocks have."""
+    return [part for part in range(len(market.runs)) if part not in market.gone
+            and any(part in stock for stock in found) and any(part not in stock for stock in found)]
+
+
+def risen(world, part, by=1):
+    """The world in which the price of one part is greater."""
+    return tuple(world[:part]) + (world[part] + by,) + tuple(world[part + 1:])
+
+
+def sorted_pairs(market, demand, found):
+    """The pairs of parts that are with, and those that are against one another, by all rings of all stocks."""
+    together, apart = set(), set()
+    for stock in found:
+        for outs, ins in ring_moves(market, demand, stock):
+            together |= set(itertools.permutations(outs, 2)) | set(itertools.permutations(ins, 2))
+            apart |= set(itertools.product(outs, ins)) | set(itertools.product(ins, outs))
+    return together, apart
+
+
+def lost_stocks(found, lost):
+    """The stocks that have none of the lost parts."""
+    return [stock for stock in found if not set(stock) & set(lost)]
+
+
+def difference(one, other):
+    """One less other, None if one is None."""
+    return None if one is None else one - other

@@ -11,20 +11,9 @@ from keptparts.markets import Join, Lap
 from keptparts.notes import Notes
 from keptparts.tables import Table
 from support import (
-    NO_INTEGERS, NO_ROWS, Case, agreeing, best_price, best_stocks, great_market, more_by, price, random_cases,
-    random_notes, random_stock, random_world,
+    NO_INTEGERS, NO_ROWS, Case, agreeing, best_price, best_stocks, great_market, loose_parts, more_by, random_cases,
+    random_notes, random_stock, random_world, threshold,
 )
-
-
-def threshold(world, found, part):
-    """The critical price, by the words of the document."""
-    without = min(price(world, stock) for stock in found if part not in stock)
-    return without - min(price(world, stock) - world[part] for stock in found if part in stock)
-
-
-def loose_parts(market, found):
-    return [part for part in range(market.many) if part not in market.gone
-            and any(part in stock for stock in found) and any(part not in stock for stock in found)]
 
 
 class Prices(Case):

@@ -90,6 +90,44 @@ BEHIND_60 = """
 [[(0,), (1,)], (2, 3), None]
 """
 
+BEHIND_75 = """
+>>> from keptparts.markets import Join
+>>> from keptparts.pairs import sort_of, with_parts, against_parts
+>>> market = Join(3, [(0, 1), (1, 2), (2, 3), (0, 2), (1, 3), (0, 3)])
+>>> [sort_of(market, 1, 0, 2), sort_of(market, 1, 0, 1), with_parts(market, 1, 5), against_parts(market, 1, 5)]
+['mixed', 'with', (), (0, 1, 2, 3, 4)]
+
+>>> from keptparts.markets import Join
+>>> from keptparts.critical import critical_price, critical_ends
+>>> from keptparts.notes import Notes
+>>> market = Join(2, [(0, 2), (0, 1), (1, 2)])
+>>> [critical_price(market, 1, [7, 3, 9], 1), critical_ends(market, 1, Notes([(4, 6), (0, 9), (5, 7)]), 1)]
+[-2, (-3, 1)]
+"""
+
+BEHIND_90 = """
+>>> from keptparts.markets import Join
+>>> from keptparts.further import losses_of_two
+>>> chain = Join(2, [(0, 1), (1, 2), (0, 2)])
+>>> equal = Join(1, [(0, 1), (0, 1), (0, 1)])
+>>> [losses_of_two(chain, 1, (1, 1, 4), 0, 1), losses_of_two(equal, 1, (0, 0, 1), 0, 1)]
+[(2, 2, 2), (0, 0, 1)]
+
+>>> from keptparts.markets import Join
+>>> from keptparts.mending import mend_price, mend_rings
+>>> market = Join(3, [(0, 1), (0, 2), (1, 2), (1, 3), (2, 3)])
+>>> world = (1, 10, 1, 10, 1)
+>>> [mend_price(market, 1, world, (0, 2, 4), (2,)), mend_rings(market, 1, world, (0, 3), (3,))]
+[10, [((3,), (2, 4))]]
+
+>>> from keptparts.markets import Join
+>>> from keptparts.waiting import Wait, ahead, bound
+>>> market = Join(3, [(0, 1), (0, 2), (1, 2), (1, 3), (2, 3)])
+>>> world = (1, 10, 1, 10, 1)
+>>> [Wait(market, world, 1)((0,)), ahead(market, world, 1, 1), bound(market, world, 1, 1)]
+[11, 22, 19]
+"""
+
 
 class Examples(unittest.TestCase):
     """The examples of the document, as they stand there."""
@@ -113,6 +151,12 @@ class Examples(unittest.TestCase):
 
     def test_behind_60(self):
         self.run_examples(BEHIND_60, 3)
+
+    def test_behind_75(self):
+        self.run_examples(BEHIND_75, 2)
+
+    def test_behind_90(self):
+        self.run_examples(BEHIND_90, 3)
 
 
 if __name__ == "__main__":

@@ -48,6 +48,23 @@ FUNCTIONS = {
                " surely_barred(market, notes, heights)",
     "critical": "critical_price(market, demand, world, part) critical_ends(market, demand, notes, part)"
                 " end_worlds(market, demand, notes, part)",
+    "verdicts": "verdict_in(market, demand, world, part) four(market, demand, notes, part)"
+                " safe_four(market, demand, notes, stock, part)",
+    "pairs": "with_ring(market, demand, one, other) against_ring(market, demand, one, other)"
+             " sort_of(market, demand, one, other) with_parts(market, demand, part)"
+             " against_parts(market, demand, part) mixed_partner(market, demand, part)"
+             " walk_over(market, demand, run, part, sign)",
+    "lengths": "lengths_world(market, stock, outs, ins) breaking_world(market, demand, one, other, word)",
+    "judging": "judge_worlds(market, demand, notes, part) steady(market, demand)",
+    "losing": "by_tables(market, demand, world)",
+    "further": "losses_of_two(market, demand, world, one, other) lot_sorts(market, demand, parts)"
+               " bears_rises(market, demand, world, stock, rises)"
+               " second_difference(market, demand, world, less, more, part)",
+    "waiting": "ahead(market, world, number, losses) bound(market, world, number, losses)",
+    "mending": "mend_price(market, demand, world, stock, loss) mend_rings(market, demand, world, stock, loss)"
+               " mend(market, demand, world, stock, loss) mend_heights(market, demand, world, stock, loss)"
+               " mend_notes(market, notes, stock, loss) mend_one(market, demand, world, stock, part)"
+               " mend_in_turn(market, demand, world, stock, row)",
 }
 METHODS = {
     ("markets", "Market"): "__init__(self, size, runs, *, gone=()) there(self) run_of(self, part)"
@@ -66,6 +83,8 @@ METHODS = {
                         " ask(self, part, price) narrow(self, part, low, high) after(self, parts, world)"
                         " kept_free(self, parts) and_stretch(self, low, high)",
     ("critical", "Judge"): "__init__(self, market, demand, part) __call__(self, world)",
+    ("losing", "Losing"): "__init__(self, market, demand, world) __call__(self, loss) loss_of(self, part)",
+    ("waiting", "Wait"): "__init__(self, market, world, number) __call__(self, loss)",
 }
 GENERATORS = (("sets", "subsets"), ("rings", "rings"), ("rings", "growing_ways"), ("notes", "worlds"))
 
