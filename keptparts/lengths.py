@@ -1,10 +1,11 @@
 """Worlds of lengths: prices that make a stock, or two stocks, the only cheapest ones."""
 
-from keptparts.errors import BadNumber, BadPart, IsGone
-from keptparts.markets import check_join
+from keptparts.errors import BadNumber
+from keptparts.markets import check_join, check_there
 from keptparts.notes import replaced
 from keptparts.pairs import check_searchable, ring_over, two_parts
 from keptparts.sets import set_of
+from keptparts.steps import check_sides
 
 
 def lengths_world(market, stock, outs, ins):
@@ -13,13 +14,8 @@ def lengths_world(market, stock, outs, ins):
     chosen = set_of(market.many, stock)
     out_parts = set_of(market.many, outs)
     in_parts = set_of(market.many, ins)
-    for part in in_parts:
-        if part in market.gone:
-            raise IsGone(part)
-    misplaced = [part for part in out_parts if part not in chosen]
-    misplaced = misplaced + [part for part in in_parts if part in chosen]
-    if misplaced:
-        raise BadPart(min(misplaced))
+    check_there(market, in_parts)
+    check_sides(chosen, out_parts, in_parts)
     return length_prices(market, chosen, out_parts + in_parts)
 
 

@@ -3,8 +3,7 @@
 from keptparts.amounts import gap
 from keptparts.cheapest import least_price, needed_stock
 from keptparts.covers import demand_of
-from keptparts.errors import IsGone
-from keptparts.markets import part_there
+from keptparts.markets import check_there, part_there
 from keptparts.sets import set_of
 from keptparts.tables import Table
 from keptparts.walks import price_in, world_of
@@ -36,9 +35,7 @@ def price_without(losing, lost):
 def lost_parts(market, loss):
     """The set of the parts of a loss, none of which may be gone already."""
     lost = set_of(market.many, loss)
-    for part in lost:
-        if part in market.gone:
-            raise IsGone(part)
+    check_there(market, lost)
     return lost
 
 

@@ -238,6 +238,12 @@ def check_part(market, part):
 def part_there(market, part):
     """The part, if it is a part of the market and not gone."""
     check_part(market, part)
-    if part in market.gone:
-        raise IsGone(part)
+    check_there(market, (part,))
     return part
+
+
+def check_there(market, parts):
+    """Raise IsGone with the least part of a set of parts that is gone."""
+    for part in parts:
+        if part in market.gone:
+            raise IsGone(part)

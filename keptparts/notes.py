@@ -104,8 +104,6 @@ class Notes:
 
     def and_stretch(self, low, high):
         """The notes with one stretch more at the end."""
-        if not is_stretch((low, high)):
-            raise BadStretch(len(self.stretches))
         return Notes([*self.stretches, (low, high)])
 
 

@@ -1,8 +1,8 @@
 """Steps from point to point, and moves of parts out of and into a stock."""
 
 from keptparts.covers import check_stock, demand_of, places_over
-from keptparts.errors import BadPart, IsGone
-from keptparts.markets import is_lap
+from keptparts.errors import BadPart
+from keptparts.markets import check_there, is_lap
 from keptparts.sets import both, minus, set_of
 
 BARE = -1
@@ -53,15 +53,18 @@ def moved(market, demand, stock, outs, ins):
     chosen = set_of(market.many, stock)
     leaving_parts = set_of(market.many, outs)
     coming_parts = set_of(market.many, ins)
-    for part in coming_parts:
-        if part in market.gone:
-            raise IsGone(part)
+    check_there(market, coming_parts)
     check_stock(market, wanted, chosen)
-    misplaced = [part for part in leaving_parts if part not in chosen]
-    misplaced = misplaced + [part for part in coming_parts if part in chosen]
+    check_sides(chosen, leaving_parts, coming_parts)
+    return behind(chosen, leaving_parts, coming_parts)
+
+
+def check_sides(chosen, outs, ins):
+    """Raise BadPart with the least out that is not in the set, or in that is."""
+    misplaced = [part for part in outs if part not in chosen]
+    misplaced = misplaced + [part for part in ins if part in chosen]
     if misplaced:
         raise BadPart(min(misplaced))
-    return behind(chosen, leaving_parts, coming_parts)
 
 
 def behind(chosen, outs, ins):

@@ -90,7 +90,7 @@ def pinned_levels(walks, begin, end, number):
     Levels that are the least prices of reaching each point keep below. So that every point
     is reached, one may begin anywhere, but elsewhere so high that the two levels stay.
     """
-    high = max([0] + [-row[begin] for row in walks if row[begin] is not None])
+    high = max([-row[begin] for row in walks if row[begin] is not None])
     high = max([high] + [number - row[end] for row in walks if row[end] is not None])
     starts = [high] * len(walks)
     starts[begin] = 0

@@ -297,6 +297,17 @@ class Wrong(Case):
         self.order(lot_sorts, (join, 1, [1, 2]), (kind, demand, (2, [0, 4, 3], IsGone, {"part": 3}), none))
         self.fails(NotJoin, {}, lot_sorts, lap, 1, [])
 
+    def test_two_wrong_arguments(self):
+        row = (1, 2, 3, 4, 5)
+        for market in self.markets():
+            self.fails(BadPart, {"part": 9}, losses_of_two, market, 1, row, 9, 8)
+            self.fails(BadPart, {"part": 9}, losses_of_two, market, 1, row, 9, 3)
+            self.fails(IsGone, {"part": 3}, losses_of_two, market, 1, row, 3, 9)
+            self.fails(BadSet, {"place": 1}, second_difference, market, 1, row, [0, 9], [9], 9)
+            self.fails(BadSet, {"place": 1}, second_difference, market, 1, row, [0, 9], [3], 3)
+            self.fails(IsGone, {"part": 3}, second_difference, market, 1, row, [0, 3], [9], 9)
+            self.fails(IsGone, {"part": 4}, second_difference, market, 1, row, [0, 2], [4], 3)
+
     def test_places_of_less(self):
         for market in self.markets():
             row = (1, 2, 3, 4, 5)

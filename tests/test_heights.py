@@ -295,6 +295,7 @@ class Wrong(Case):
         self.fails(OtherRow, {"size": 3}, value_of, Lap(2, [(0, 2)]), 1, [2], falling)
         self.same(value_of(Join(3, [(0, 3)]), 1, [2], falling), -1)
         self.same(fits(lap, 1, [2], [0], falling), False)
+        self.fails(NotAStock, {"place": 0}, fits, lap, 1, [2], [], falling)
         self.same((held(lap, [2], falling), barred(lap, [2], falling)), ((), (0,)))
 
     def test_arguments_stay(self):

@@ -82,6 +82,8 @@ class Lengths(Case):
         self.order(lengths_world, right, [(0, lap, NotJoin, {})] + bad + [
             (3, [1, 4, 3], IsGone, {"part": 3}), (2, [1, 2], BadPart, {"part": 1}),
         ])
+        self.fails(BadSet, {"place": 1}, lengths_world, market, [0, 9], [9], [1, 2, 9])
+        self.fails(BadSet, {"place": 0}, lengths_world, market, [0], [9], [1, 2, 9])
         self.fails(BadPart, {"part": 0}, lengths_world, market, [0], [0], [0, 1])
         self.fails(BadPart, {"part": 1}, lengths_world, market, [0, 2], [1], [2])
         self.fails(BadPart, {"part": 1}, lengths_world, market, [0, 1], [2], [1])

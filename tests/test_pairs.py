@@ -342,8 +342,11 @@ class Wrong(Case):
             self.order(walk_over, (market, 1, (0, 2), 1, 1), (
                 kind, demand, (2, (0, 3), BadPoint, {"point": 3}), other, (4, 0, BadNumber, {"name": "sign"}), none,
             ))
-        self.fails(BadPart, {"part": 9}, sort_of, market, 1, 1, 9)
-        self.fails(IsGone, {"part": 3}, sort_of, market, 1, 3, 3)
+        for function in (with_ring, against_ring, sort_of):
+            self.fails(BadPart, {"part": 9}, function, market, 1, 9, 8)
+            self.fails(BadPart, {"part": 9}, function, market, 1, 9, 3)
+            self.fails(IsGone, {"part": 3}, function, market, 1, 3, 9)
+            self.fails(IsGone, {"part": 3}, function, market, 1, 3, 3)
 
     def test_wrong_values(self):
         market = Join(2, [(0, 2), (0, 1), (1, 2), (0, 2)], gone=[3])

@@ -194,6 +194,7 @@ class Wrong(Case):
                     (3, no_stock, NotAStock, {"place": place}), (4, [2], NotAStock, {"place": 0}),
                 ))
             self.order(possible_stocks, (market, 1, notes), (demand, size, (1, 9, NoStock, {})))
+            self.fails(BadSet, {"place": 1}, trail, market, 1, notes, [0, 9], [9])
             seen = Notes.seen_at([1, 1, 1, 0])
             self.fails(NotAStock, {"place": 0}, trail, market, 1, seen, [1, 2], [2])
             self.fails(NotPossible, {"parts": (1, 2)}, trail, market, 1, seen, [1, 2], [0])

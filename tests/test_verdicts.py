@@ -88,6 +88,7 @@ class Four(Case):
             notes = Notes([(part, part + 1) for part in range(14)])
             self.fails(TooMany, {"number": 13}, four, market, 1, notes, 0)
             self.fails(TooMany, {"number": 13}, four, market, 13, notes, 0)
+            self.fails(NoStock, {}, four, market, 14, notes, 0)
             fewer = market - [13]
             self.same(four(fewer, 1, notes, 0), (False, True, True, True))
             self.same(four(fewer, 12, notes, 0), (True,) * 4)
