@@ -35,6 +35,11 @@ def is_run(size, run):
     return is_within(run[0], 0, size) and is_within(run[1], 0, size) and run[0] < run[1]
 
 
+def is_any_run(run):
+    """Whether the value is a run over some row, however long."""
+    return is_pair(run) and is_count(run[0]) and is_count(run[1]) and run[0] < run[1]
+
+
 def first_wrong(flags):
     """The least index at which there is a False, None if there is none."""
     for place, flag in enumerate(flags):

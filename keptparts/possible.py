@@ -1,6 +1,6 @@
 """Possible stocks: those that are cheapest in some agreeing world."""
 
-from keptparts.covers import check_stock, demand_of
+from keptparts.covers import check_stock, demand_of, is_stock_of
 from keptparts.differences import split_rings
 from keptparts.errors import NotPossible
 from keptparts.heights import heights_for
@@ -37,7 +37,32 @@ def possible_stocks(market, demand, notes):
     check_notes(market, notes)
     check_has_stock(market, wanted)
     check_few(market)
-    return [stock for stock in stocks_of(market, wanted) if can_be_cheapest(market, wanted, notes, stock)]
+    return possible_among(market, wanted, notes, stocks_of(market, wanted))
+
+
+def possible_among(market, wanted, notes, stocks):
+    """Those of some stocks that are possible.
+
+    A ring that bars one stock bars each other one that it can be taken from: that is looked at first.
+    """
+    found = []
+    moves = []
+    for stock in stocks:
+        if not any([can_be_taken(market, wanted, stock, move) for move in moves]):
+            move = lowering_ring(market, wanted, notes.low_on(stock), stock)
+            if move is None:
+                found.append(stock)
+            else:
+                moves.append(move)
+    return found
+
+
+def can_be_taken(market, wanted, chosen, move):
+    """Whether a stock has all outs and none of the ins of a move, and is a stock behind it."""
+    outs, ins = move
+    if not all([part in chosen for part in outs]) or any([part in chosen for part in ins]):
+        return False
+    return is_stock_of(market, wanted, behind(chosen, outs, ins))
 
 
 def trail(market, demand, notes, one, other):

@@ -334,3 +334,84 @@ def lost_stocks(found, lost):
 def difference(one, other):
     """One less other, None if one is None."""
     return None if one is None else one - other
+
+
+def stocks_by_size(market):
+    """For each size from 0 to the strength the ascending list of all stocks of this size."""
+    found = []
+    for chosen in all_sets(part for part in range(len(market.runs)) if part not in market.gone):
+        counts = covers(market, chosen)
+        if market.KIND == "lap":
+            sizes = range(min(counts) + 1)
+        else:
+            sizes = [counts[0]] if len(set(counts)) == 1 else []
+        for size in sizes:
+            found.extend([] for _ in range(len(found), size + 1))
+            found[size].append(chosen)
+    return [sorted(row) for row in found]
+
+
+def growing_moves(market, number, stock):
+    """The moves of all growing ways of a stock, ascending."""
+    return walk_moves(market, number, stock, 0, market.size)
+
+
+def back_givers(market, by_size, number):
+    """All (stock, outs, ins) of growing ways of stocks of this size that have an out."""
+    return [(stock, outs, ins) for stock in by_size[number]
+            for outs, ins in growing_moves(market, number, stock) if outs]
+
+
+def free_world(world, kept):
+    """The world in which some parts cost nothing."""
+    return tuple(0 if part in kept else number for part, number in enumerate(world))
+
+
+def far(amount):
+    """An amount as an integer: None is more than everything."""
+    return 10 ** 40 if amount is None else amount
+
+
+def random_runs(seed, size, most=7):
+    """A random set of runs, some of them twice, in any order."""
+    chance = random.Random(seed)
+    runs = [chance.choice(all_runs(size)) for _ in range(chance.randint(0, most))]
+    return runs + [run for run in runs if chance.random() < 0.2]
+
+
+def market_over(seed, size, runs, most=2, whole=False):
+    """A random join market over some runs, with gone parts on any run; whole adds parts over the whole row."""
+    chance = random.Random(seed)
+    parts = [run for run in sorted(set(runs)) for _ in range(chance.randint(0 if whole else 1, most))]
+    chance.shuffle(parts)
+    if whole:
+        parts.append((0, size))
+    gone = []
+    if chance.random() < 0.4:
+        gone.append(len(parts))
+        parts.append(chance.choice(all_runs(size)))
+    return Join(size, parts, gone=gone)
+
+
+def chain_rows(runs, first, last):
+    """All chains of different runs from one point to another."""
+    if first == last:
+        return [()]
+    return [(run,) + rest for run in sorted(set(runs)) if run[0] == first and run[1] <= last
+            for rest in chain_rows(runs, run[1], last)]
+
+
+def great_ways(seed, ways, many=60, gone=4, kind=None):
+    """A market of 30 places of at least so much strength, with so many parts, some of which are gone."""
+    chance = random.Random(seed)
+    runs = []
+    for _ in range(ways):
+        points = [0] + sorted(chance.sample(range(1, 30), chance.randint(0, 4))) + [30]
+        runs.extend(zip(points, points[1:]))
+    while len(runs) < many:
+        begin = chance.randint(0, 29)
+        runs.append((begin, chance.randint(begin + 1, 30)))
+    order = list(range(many))
+    chance.shuffle(order)
+    lost = [place for place in range(many) if order[place] >= many - gone]
+    return (kind or (Join, Lap)[seed % 2])(30, [runs[number] for number in order], gone=lost)

@@ -128,6 +128,37 @@ BEHIND_90 = """
 [11, 22, 19]
 """
 
+BEHIND_105 = """
+>>> from keptparts.markets import Join
+>>> from keptparts.growing import grows, grows_at, going_back
+>>> market = Join(3, [(0, 1), (0, 2), (1, 2), (1, 3), (2, 3)])
+>>> [grows_at(market, 0), grows(market), going_back(market, 1)]
+[True, False, ((0, 2, 4), (2,), (1, 3))]
+
+>>> from keptparts.markets import Join
+>>> from keptparts.leaving import leaving_world, left_behind
+>>> from keptparts.budgets import cost_steps
+>>> market = Join(3, [(0, 1), (0, 2), (1, 2), (1, 3), (2, 3)])
+>>> [left_behind(market, 1), leaving_world(market, 1, 2), cost_steps(market, (0, 2, 1, 2, 0))]
+[(2,), (0, 2, 1, 2, 0), [1, 3]]
+
+>>> from keptparts.markets import Join
+>>> from keptparts.buying import Buying
+>>> from keptparts.budgets import best_sizes, greatest_size
+>>> market = Join(2, [(0, 1), (0, 1), (1, 2), (1, 2), (0, 2)])
+>>> world = (1, 4, 2, 2, 5)
+>>> run = Buying(market, world)
+>>> [len(run.buy_many(5)), run.spent, run.stopped, greatest_size(market, world, 8), best_sizes(market, world, 5)]
+[3, 14, True, 2, [1, 2]]
+"""
+
+BEHIND_119 = """
+>>> from keptparts.bridges import bridge, doubled
+>>> runs = [(0, 1), (0, 2), (1, 2), (1, 3), (2, 3)]
+>>> [bridge(3, runs), bridge(3, [(1, 3), (0, 1), (0, 2)]), doubled(3, [(1, 3), (0, 1), (0, 2)]).runs]
+[((0, 1, 2, 3), (((0, 1),), ((0, 2),), ((1, 2),), ((1, 3),), ((2, 3),))), None, ((0, 1), (0, 1), (1, 3), (1, 3))]
+"""
+
 
 class Examples(unittest.TestCase):
     """The examples of the document, as they stand there."""
@@ -157,6 +188,12 @@ class Examples(unittest.TestCase):
 
     def test_behind_90(self):
         self.run_examples(BEHIND_90, 3)
+
+    def test_behind_105(self):
+        self.run_examples(BEHIND_105, 3)
+
+    def test_behind_119(self):
+        self.run_examples(BEHIND_119, 1)
 
 
 if __name__ == "__main__":

@@ -65,7 +65,22 @@ FUNCTIONS = {
                " mend(market, demand, world, stock, loss) mend_heights(market, demand, world, stock, loss)"
                " mend_notes(market, notes, stock, loss) mend_one(market, demand, world, stock, part)"
                " mend_in_turn(market, demand, world, stock, row)",
+    "foes": "worst_loss(market, number, world, losses) worst_at(market, number, notes, losses)"
+            " worst_part(market, demand, world)",
+    "growing": "grows_at(market, number) going_back(market, number) grows(market)"
+               " stock_left(market, number, stock, more, other)",
+    "buying": "right_up_to(market, world, number)",
+    "budgets": "cost_steps(market, world) greatest_size(market, world, budget) sized_stock(market, world, budget)"
+               " best_sizes(market, world, reward) sizes_for(market, notes, budget)",
+    "leaving": "left_behind(market, number) brought_in(market, number) leaving_world(market, number, part)"
+               " births(market, world)",
+    "useful": "market_runs(market) useful_runs(size, runs) chain_between(size, runs, first, last)"
+              " chain_through(size, runs, run)",
+    "bridges": "bridge(size, runs) is_bridge(size, runs, points, chains) doubled(size, runs)"
+               " once_and_whole(size, runs) bridge_way(size, runs)",
 }
+THREADS = ("runs_in(self) costs(self, market, world) length_in(self, market) least_with(self, run, other) words(self)"
+           " __iter__(self)")
 METHODS = {
     ("markets", "Market"): "__init__(self, size, runs, *, gone=()) there(self) run_of(self, part)"
                            " parts_over(self, run)",
@@ -85,6 +100,12 @@ METHODS = {
     ("critical", "Judge"): "__init__(self, market, demand, part) __call__(self, world)",
     ("losing", "Losing"): "__init__(self, market, demand, world) __call__(self, loss) loss_of(self, part)",
     ("waiting", "Wait"): "__init__(self, market, world, number) __call__(self, loss)",
+    ("buying", "Buying"): "__init__(self, market, world) buy(self) buy_many(self, number) __len__(self)"
+                          " __iter__(self)",
+    ("threads", "Thread"): "__init__(self, first, last)",
+    ("threads", "Single"): "__init__(self, run) " + THREADS,
+    ("threads", "EndToEnd"): "__init__(self, one, other) " + THREADS,
+    ("threads", "Beside"): "__init__(self, one, other) " + THREADS,
 }
 GENERATORS = (("sets", "subsets"), ("rings", "rings"), ("rings", "growing_ways"), ("notes", "worlds"))
 
