@@ -393,6 +393,38 @@ def market_over(seed, size, runs, most=2, whole=False):
     return Join(size, parts, gone=gone)
 
 
+def bridge_ends(points):
+    """The pairs of points between which the five chains of a bridge lie."""
+    s, x, y, t = points
+    return (s, x), (s, y), (x, y), (x, t), (y, t)
+
+
+def bridged_runs(seed, size, most):
+    """Runs of which most have a bridge, over a row of at least three places."""
+    chance = random.Random(seed)
+    points = sorted(chance.sample(range(size + 1), 4))
+    runs = [run for run in bridge_ends(points) if chance.random() < 0.95]
+    runs += [run for run in ((0, points[0]), (points[3], size)) if run[0] < run[1]]
+    runs += random_runs(seed, size, max(0, most - len(runs)) // 2)
+    chance.shuffle(runs)
+    return runs
+
+
+def folding_runs(chance, first, last, inner, depth=3):
+    """Runs from one point to another that fold; inner are points between that they may use."""
+    kind = chance.choice(("run", "end", "end", "beside")) if depth and inner else "run"
+    if kind == "run":
+        return [(first, last)]
+    if kind == "end":
+        point = chance.choice(inner)
+        before, after = ([other for other in inner if other < point], [other for other in inner if other > point])
+        return (folding_runs(chance, first, point, before, depth - 1)
+                + folding_runs(chance, point, last, after, depth - 1))
+    one = [point for point in inner if chance.random() < 0.5]
+    other = [point for point in inner if point not in one]
+    return folding_runs(chance, first, last, one, depth - 1) + folding_runs(chance, first, last, other, depth - 1)
+
+
 def chain_rows(runs, first, last):
     """All chains of different runs from one point to another."""
     if first == last:
@@ -415,3 +447,51 @@ def great_ways(seed, ways, many=60, gone=4, kind=None):
     chance.shuffle(order)
     lost = [place for place in range(many) if order[place] >= many - gone]
     return (kind or (Join, Lap)[seed % 2])(30, [runs[number] for number in order], gone=lost)
+
+
+class Words:
+    """What a desk answers, by the words of the document, by all sets of parts and all agreeing worlds."""
+
+    def __init__(self, desk):
+        self.desk = desk
+        market, number = desk.market, desk.number
+        self.left = type(market)(market.size, market.runs, gone=sorted(set(market.gone) | set(desk.loss)))
+        kept = set(desk.bought) - set(desk.loss)
+        self.stretches = [(0, 0) if part in kept else stretch for part, stretch in enumerate(desk.notes.stretches)]
+        self.kept = kept
+        self.worlds = list(itertools.product(*[range(low, high + 1) for low, high in self.stretches]))
+        self.found = stocks(self.left, number)
+        self.larger = stocks(self.left, number + 1)
+        costs = [best_price(world, self.found) for world in self.worlds]
+        rows = list(zip(self.worlds, costs))
+        self.costs = costs
+        self.safe = [stock for stock in self.found if all(price(world, stock) == cost for world, cost in rows)]
+        self.possible = [stock for stock in self.found if any(price(world, stock) == cost for world, cost in rows)]
+        self.verdicts = [self.verdict(part) for part in range(len(market.runs))]
+
+    def verdict(self, part):
+        desk = self.desk
+        if part in desk.market.gone:
+            return "gone"
+        if part in desk.loss:
+            return "lost"
+        if part in self.kept:
+            return "kept"
+        if not self.found:
+            return "short"
+        having = [part in stock for stock in self.possible]
+        return "in" if all(having) else "unsettled" if any(having) else "out"
+
+    def pay_ends(self):
+        return (min(self.costs), max(self.costs)) if self.found else (None, None)
+
+    def next_ends(self):
+        if not self.safe:
+            return None
+        if not self.larger:
+            return (None, None)
+        steps = [best_price(world, self.larger) - cost for world, cost in zip(self.worlds, self.costs)]
+        return (min(steps), max(steps))
+
+    def regret(self, stock):
+        return max(price(world, stock) - cost for world, cost in zip(self.worlds, self.costs))

@@ -10,29 +10,24 @@ from keptparts.markets import Join
 from keptparts.rings import is_walk
 from keptparts.useful import useful_runs
 from support import (
-    NO_INTEGERS, NO_ROWS, Case, all_runs, chain_rows, is_a_stock, market_over, random_runs,
+    NO_INTEGERS, NO_ROWS, Case, all_runs, bridge_ends, bridged_runs, chain_rows, is_a_stock, market_over, random_runs,
 )
 
 FIVE = [(0, 1), (0, 2), (1, 2), (1, 3), (2, 3)]
 WRONG_RUNS = ((0, 4), (-1, 1), (1, 1), (2, 1), (0,), (0, 1, 2), (0, True), (0, 1.0), None, 5, "01", True)
 
 
-def ends_of(points):
-    s, x, y, t = points
-    return (s, x), (s, y), (x, y), (x, t), (y, t)
-
-
 def right_bridge(size, runs, points, chains):
     """Whether it is a bridge, by the words of the document; points and chains are of the right form."""
     useful = {run for chain in chain_rows(runs, 0, size) for run in chain}
     met = []
-    for (first, last), chain in zip(ends_of(points), chains):
+    for (first, last), chain in zip(bridge_ends(points), chains):
         if not set(chain) <= useful or not chain or chain[0][0] != first or chain[-1][1] != last:
             return False
         if any(before[1] != after[0] for before, after in zip(chain, chain[1:])):
             return False
         met.append({first, last} | {end for _, end in chain})
-    for (one, ends), (other, other_ends) in itertools.combinations(zip(met, ends_of(points)), 2):
+    for (one, ends), (other, other_ends) in itertools.combinations(zip(met, bridge_ends(points)), 2):
         if (one & other) - (set(ends) & set(other_ends)):
             return False
     return points[0] < points[1] < points[2] < points[3]
@@ -42,7 +37,7 @@ def all_bridges(size, runs):
     """All bridges of a small set of runs."""
     useful = useful_runs(size, runs)
     for points in itertools.combinations(range(size + 1), 4):
-        rows = [[chain for chain in chain_rows(useful, *ends) if chain] for ends in ends_of(points)]
+        rows = [[chain for chain in chain_rows(useful, *ends) if chain] for ends in bridge_ends(points)]
         for chains in itertools.product(*rows):
             if right_bridge(size, useful, points, chains):
                 yield points, chains
@@ -52,16 +47,8 @@ def run_sets(many, sizes=(3, 4, 5), most=9):
     """Small sets of runs; about half of them are made from a bridge."""
     for seed in range(many):
         size = sizes[seed % len(sizes)]
-        chance = random.Random(seed)
-        if size > 2 and chance.random() < 0.6:
-            points = sorted(chance.sample(range(size + 1), 4))
-            runs = [run for run in ends_of(points) if chance.random() < 0.95]
-            runs += [run for run in ((0, points[0]), (points[3], size)) if run[0] < run[1]]
-            runs += random_runs(seed, size, max(0, most - len(runs)) // 2)
-            chance.shuffle(runs)
-            yield seed, size, runs
-        else:
-            yield seed, size, random_runs(seed, size, most)
+        made = size > 2 and random.Random(seed).random() < 0.6
+        yield seed, size, bridged_runs(seed, size, most) if made else random_runs(seed, size, most)
 
 
 class Bridges(Case):
@@ -93,7 +80,7 @@ class Bridges(Case):
             inner = [point for point in range(31) if point not in points]
             chance.shuffle(inner)
             runs = []
-            for first, last in ((0, points[0]),) + ends_of(points) + ((points[3], 30),):
+            for first, last in ((0, points[0]),) + bridge_ends(points) + ((points[3], 30),):
                 within = [point for point in inner if first < point < last and chance.random() < 0.4]
                 inner = [point for point in inner if point not in within]
                 row = [first] + sorted(within) + [last]
@@ -109,7 +96,7 @@ class Bridges(Case):
     def check_chains(self, runs, found):
         points, chains = found
         inner = list(points)
-        for (first, last), chain in zip(ends_of(points), chains):
+        for (first, last), chain in zip(bridge_ends(points), chains):
             self.same([first] + [end for _, end in chain], [begin for begin, _ in chain] + [last])
             self.assertTrue(set(chain) <= set(runs))
             inner += [end for _, end in chain[:-1]]
@@ -161,8 +148,8 @@ class IsBridge(Case):
                     chain = chance.choice(chains)
                     chain[chance.randrange(len(chain))] = chance.choice(all_runs(size))
                 elif what == 3:
-                    ends = chance.choice(ends_of(found[0]))
-                    chains[ends_of(found[0]).index(ends)] = list(chance.choice(chain_rows(all_runs(size), *ends)))
+                    ends = chance.choice(bridge_ends(found[0]))
+                    chains[bridge_ends(found[0]).index(ends)] = list(chance.choice(chain_rows(all_runs(size), *ends)))
                 else:
                     chance.shuffle(chains)
                 wanted = right_bridge(size, runs, points, chains)

@@ -153,10 +153,80 @@ BEHIND_105 = """
 """
 
 BEHIND_119 = """
+>>> from keptparts.folds import Folding, cost_row
+>>> from keptparts.markets import Join
+>>> folding = Folding(3, [(0, 1), (1, 3), (0, 2), (2, 3)])
+>>> [folding.folded, folding.rest, cost_row(Join(3, [(0, 1), (1, 3), (0, 2), (2, 3), (1, 3)]), [4, 9, 6, 1, 2])]
+[(1, 2), ((0, 3),), [6, 7]]
+
 >>> from keptparts.bridges import bridge, doubled
 >>> runs = [(0, 1), (0, 2), (1, 2), (1, 3), (2, 3)]
 >>> [bridge(3, runs), bridge(3, [(1, 3), (0, 1), (0, 2)]), doubled(3, [(1, 3), (0, 1), (0, 2)]).runs]
 [((0, 1, 2, 3), (((0, 1),), ((0, 2),), ((1, 2),), ((1, 3),), ((2, 3),))), None, ((0, 1), (0, 1), (1, 3), (1, 3))]
+"""
+
+BEHIND_133 = """
+>>> from keptparts.markets import Join
+>>> from keptparts.notes import Notes
+>>> from keptparts.papers import Told
+>>> from keptparts.forced import forced_parts, lacking_ring
+>>> from keptparts.changes import room
+>>> market = Join(2, [(0, 1), (1, 2), (0, 2)])
+>>> notes = Notes([(0, 2), (0, 2), (1, 1)])
+>>> told = Told(market, 1, notes, (0, 0, 1), (0, 1))
+>>> [told.paper, len(told), told.shows([0]), forced_parts(market, 1, notes, (0, 0, 1), (0, 1)),
+...     lacking_ring(market, 1, notes, (0, 0, 1), (0, 1), [0]), room(market, 1, (0, 0, 1), (0, 1))]
+[(0, 1), 2, False, (0, 1), ((0, 1), (2,)), 1]
+
+>>> from keptparts.markets import Join
+>>> from keptparts.notes import Notes
+>>> from keptparts.papers import is_paper
+>>> from keptparts.forced import forced_parts
+>>> from keptparts.changes import room, side_room, near
+>>> market = Join(1, [(0, 1), (0, 1)])
+>>> notes = Notes([(2, 6), (3, 9)])
+>>> [forced_parts(market, 1, notes, (2, 9), [0]), is_paper(market, 1, notes, (2, 9), [0], []),
+...     is_paper(market, 1, notes, (2, 9), [0], [1]), room(market, 1, (2, 9), [0]),
+...     side_room(market, 1, (2, 9), [0]), near((2, 9), 3).stretches]
+[(), False, True, 7, 3, ((0, 5), (6, 12))]
+
+>>> from keptparts.markets import Join
+>>> from keptparts.notes import Notes
+>>> from keptparts.blows import fewest_shown, free_stock, shows_price
+>>> market = Join(3, [(0, 1), (0, 2), (1, 2), (1, 3), (2, 3)])
+>>> notes = Notes.unknown(5, 9)
+>>> [fewest_shown(market, 1), free_stock(market, 1, [0]), shows_price(market, 1, notes, (1, 1, 1, 1, 1), [0, 1], 1),
+...     shows_price(market, 1, notes, (1, 1, 1, 1, 1), [0], 1)]
+[2, (1, 4), True, False]
+"""
+
+BEHIND_148 = """
+>>> from keptparts.markets import Join
+>>> from keptparts.notes import Notes
+>>> from keptparts.desks import Desk
+>>> from keptparts.listings import listing
+>>> desk = Desk(Join(1, [(0, 1), (0, 1), (0, 1)]), Notes([(1, 4), (2, 3), (5, 6)]), 1)
+>>> first = [desk.verdict(0), desk.verdict(1), desk.verdict(2), desk.sure_stock(), desk.pay_ends()]
+>>> news = desk.ask(0, 2)
+>>> [first, news, listing(desk)]
+[['unsettled', 'unsettled', 'out', None, (1, 3)], (), 'join of 1, wanted 1, spent 0, deeds 1\\n0 0-1 2 unsettled\\n1 0-1 2..3 unsettled\\n2 0-1 5..6 out\\nto pay 2\\nsure 0\\n']
+
+>>> from keptparts.markets import Join
+>>> from keptparts.notes import Notes
+>>> from keptparts.desks import Desk
+>>> desk = Desk(Join(2, [(0, 1), (1, 2), (0, 2)]), Notes([(0, 2), (0, 2), (1, 1)]), 1)
+>>> asked = desk.finish([0, 0, 1])
+>>> [asked, len(desk), desk.sure_stock(), desk.buy(0, 0), desk.spent, desk.verdict(0), desk.lose(1), desk.short,
+...     desk.verdict(2), desk.back(), len(desk)]
+[(0, 1), 2, (0, 1), (0,), 0, 'kept', (1, 2), False, 'in', (1, 2), 3]
+
+>>> from keptparts.markets import Lap
+>>> from keptparts.notes import Notes
+>>> from keptparts.desks import Desk
+>>> from keptparts.trials import tried, tried_offer
+>>> desk = Desk(Lap(2, [(0, 1), (1, 2)]), Notes([(3, 3), (4, 4)]), 1)
+>>> [tried(desk, 0), tried_offer(desk, (0, 2), 5, 6), tried_offer(desk, (0, 2), 5, 8), len(desk), desk.losses_left()]
+[(0, 1), 'in', 'unsettled', 0, 0]
 """
 
 
@@ -193,7 +263,13 @@ class Examples(unittest.TestCase):
         self.run_examples(BEHIND_105, 3)
 
     def test_behind_119(self):
-        self.run_examples(BEHIND_119, 1)
+        self.run_examples(BEHIND_119, 2)
+
+    def test_behind_133(self):
+        self.run_examples(BEHIND_133, 3)
+
+    def test_behind_148(self):
+        self.run_examples(BEHIND_148, 3)
 
 
 if __name__ == "__main__":

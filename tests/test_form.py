@@ -156,7 +156,8 @@ class Form(unittest.TestCase):
             for node in ast.walk(tree):
                 if isinstance(node, (ast.FunctionDef, ast.ClassDef)):
                     for decorator in node.decorator_list:
-                        self.assertIn(ast.unparse(decorator), ("property", "staticmethod", "classmethod"), name)
+                        allowed = ("property", "staticmethod", "classmethod", "wanted.setter")
+                        self.assertIn(ast.unparse(decorator), allowed, name)
 
     def test_names(self):
         for name, tree in trees():
@@ -217,6 +218,37 @@ class Form(unittest.TestCase):
                 stored = isinstance(parent, ast.Assign) and isinstance(parent.targets[0], ast.Name)
                 placed = called(parent) in ("sorted", "len") or isinstance(parent, ast.Compare)
                 self.assertTrue(stored or placed, (name, node.lineno))
+
+    def test_ends_of_blocks(self):
+        """An __exit__ only gives attributes other attributes, names and literals."""
+        found = 0
+        for name, tree in trees():
+            for function in functions(tree):
+                if function.name != "__exit__":
+                    continue
+                found += 1
+                for node in function.body:
+                    self.assertIsInstance(node, ast.Assign)
+                    self.assertIsInstance(node.value, (ast.Attribute, ast.Name, ast.Constant))
+                    if isinstance(node.value, ast.Attribute):
+                        self.assertIsInstance(node.value.value, ast.Name)
+        self.assertEqual(found, 1)
+
+    def test_lengths_and_iterations(self):
+        """A __len__ is one len(..), and an __iter__ one iter(..) of an attribute."""
+        for name, tree in trees():
+            for function in functions(tree):
+                word = {"__len__": "len", "__iter__": "iter"}.get(function.name)
+                if word is not None:
+                    self.assertEqual(len(function.body), 1)
+                    self.assertEqual(called(function.body[0].value), word)
+                    self.assertIsInstance(function.body[0].value.args[0], ast.Attribute)
+
+    def test_properties_only_read(self):
+        for name, tree in trees():
+            for function in functions(tree):
+                if "property" in [ast.unparse(decorator) for decorator in function.decorator_list]:
+                    self.assertFalse([node for node in ast.walk(function) if isinstance(node, (ast.Assign, ast.For))])
 
     def test_words(self):
         for path in files():

@@ -1,5 +1,6 @@
 import importlib
 import inspect
+import pathlib
 import unittest
 
 FUNCTIONS = {
@@ -78,6 +79,22 @@ FUNCTIONS = {
               " chain_through(size, runs, run)",
     "bridges": "bridge(size, runs) is_bridge(size, runs, points, chains) doubled(size, runs)"
                " once_and_whole(size, runs) bridge_way(size, runs)",
+    "folds": "folding_of(market) cost_row(market, world) sort_in(market, one, other)",
+    "crossing": "crossing_pair(runs) sides(market, outs, ins)",
+    "papers": "is_paper(market, demand, notes, world, stock, parts)"
+              " paper_of(market, demand, notes, world, stock, heights)"
+              " paper_heights(market, demand, notes, world, stock, parts)"
+              " lean_paper(market, demand, notes, world, stock, parts)",
+    "forced": "forced_parts(market, demand, notes, world, stock) gain(notes, world, stock, part)"
+              " gains(notes, world, stock, parts) lacking_ring(market, demand, notes, world, stock, parts)",
+    "changes": "room(market, demand, world, stock) weakest(market, demand, world, stock)"
+               " bears_change(market, demand, world, stock, total) worst_change(market, demand, world, stock, total)"
+               " regret_under(market, demand, world, stock, total) near(world, number)"
+               " bears_each(market, demand, world, stock, number) side_room(market, demand, world, stock)",
+    "blows": "shown_price(market, number, notes) shows_price(market, number, notes, world, parts, price)"
+             " free_stock(market, number, parts) fewest_shown(market, number)",
+    "trials": "tried(desk, part) tried_offer(desk, run, low, high)",
+    "listings": "line_of(desk, part) listing(desk)",
 }
 THREADS = ("runs_in(self) costs(self, market, world) length_in(self, market) least_with(self, run, other) words(self)"
            " __iter__(self)")
@@ -106,8 +123,56 @@ METHODS = {
     ("threads", "Single"): "__init__(self, run) " + THREADS,
     ("threads", "EndToEnd"): "__init__(self, one, other) " + THREADS,
     ("threads", "Beside"): "__init__(self, one, other) " + THREADS,
+    ("folds", "Folding"): "__init__(self, size, runs, *, backwards=False)",
+    ("papers", "Told"): "__init__(self, market, demand, notes, world, stock) shows(self, parts) __iter__(self)"
+                        " __len__(self)",
+    ("desks", "Desk"): "__init__(self, market, notes, number, *, bought=()) ask(self, part, price)"
+                       " narrow(self, part, low, high) lose(self, part) find(self, part) buy(self, part, price)"
+                       " want(self, number) offer(self, run, low, high) back(self) verdict(self, part)"
+                       " unsettled(self) sure_stock(self) pay_ends(self) next_ends(self) regret_of(self, stock)"
+                       " losses_left(self) finish(self, world) __len__(self) __iter__(self)",
+    ("trials", "Trial"): "__init__(self, desk)",
 }
+PROPERTIES = {
+    ("markets", "Market"): "many", ("tables", "Table"): "known", ("notes", "Notes"): "settled",
+    ("buying", "Buying"): "stopped", ("folds", "Folding"): "folds", ("desks", "Desk"): "left now short wanted",
+    ("trials", "Trial"): "ended",
+}
+CLASS_VALUES = {
+    ("markets", "Market"): {"KIND": ""}, ("markets", "Join"): {"KIND": "join"}, ("markets", "Lap"): {"KIND": "lap"},
+}
+ATTRIBUTES = {
+    ("markets", "Market"): "size runs gone", ("markets", "Join"): "size runs gone",
+    ("markets", "Lap"): "size runs gone", ("heights", "Heights"): "levels size",
+    ("tables", "Table"): "market demand world stock price", ("notes", "Notes"): "stretches lows highs",
+    ("critical", "Judge"): "market demand part", ("losing", "Losing"): "market demand world price",
+    ("waiting", "Wait"): "market world number", ("buying", "Buying"): "market world ways bought spent",
+    ("threads", "Thread"): "first last", ("threads", "Single"): "first last",
+    ("threads", "EndToEnd"): "first last one other", ("threads", "Beside"): "first last one other",
+    ("folds", "Folding"): "size runs folded rest thread",
+    ("papers", "Told"): "market demand notes world stock paper heights fewest",
+    ("desks", "Desk"): "market notes number bought loss spent", ("trials", "Trial"): "desk",
+}
+SLOTS = {("notes", "Notes"): ("stretches", "lows", "highs")}
 GENERATORS = (("sets", "subsets"), ("rings", "rings"), ("rings", "growing_ways"), ("notes", "worlds"))
+
+
+def sample(name, kind):
+    """An object of a class of the interface."""
+    cls = vars(importlib.import_module("keptparts." + name))[kind]
+    join = importlib.import_module("keptparts.markets").Join
+    single = importlib.import_module("keptparts.threads").Single
+    notes = importlib.import_module("keptparts.notes").Notes([(1, 2), (0, 0)])
+    market = join(1, [(0, 1), (0, 1)])
+    one = single((0, 1))
+    arguments = {
+        "Market": (1, []), "Join": (1, []), "Lap": (1, []), "Heights": ([0, 1],), "Table": (market, 1, (1, 0)),
+        "Notes": ([(0, 1)],), "Judge": (market, 1, 0), "Losing": (market, 1, (1, 0)), "Wait": (market, (1, 0), 1),
+        "Buying": (market, (1, 0)), "Thread": (0, 1), "Single": ((0, 1),), "EndToEnd": (one, single((1, 2))),
+        "Beside": (one, one), "Folding": (1, [(0, 1)]), "Told": (market, 1, notes, (1, 0), [1]),
+        "Desk": (market, notes, 1), "Trial": (None,),
+    }
+    return cls(*arguments[kind])
 
 
 def told(text):
@@ -136,12 +201,60 @@ class Interface(unittest.TestCase):
                 found = str(inspect.signature(getattr(cls, method)))
                 self.assertEqual(found, signature.replace("<>", "()"), (kind, method))
 
+    def test_just_these(self):
+        """Each class has the methods, properties and class values that are listed, and no others."""
+        for (name, kind), text in METHODS.items():
+            cls = vars(importlib.import_module("keptparts." + name))[kind]
+            wanted = {method for method, _ in told(text)} | set(PROPERTIES.get((name, kind), "").split())
+            wanted |= set(CLASS_VALUES.get((name, kind), {})) | set(SLOTS.get((name, kind), ()))
+            found = {member for member in vars(cls) if not member.startswith("_")}
+            self.assertEqual(found, {member for member in wanted if not member.startswith("_")}, (name, kind))
+
+    def test_attributes(self):
+        """Each object has the attributes that are listed, from when it is made, and no others."""
+        self.assertEqual(set(ATTRIBUTES), set(METHODS))
+        for (name, kind), text in ATTRIBUTES.items():
+            found = sample(name, kind)
+            names = SLOTS.get((name, kind)) or vars(found)
+            self.assertEqual({item for item in names if not item.startswith("_")}, set(text.split()), kind)
+            self.assertTrue(all(hasattr(found, item) for item in text.split()))
+
     def test_properties(self):
-        markets = importlib.import_module("keptparts.markets")
-        self.assertIsInstance(vars(markets.Market)["many"], property)
+        for (name, kind), text in PROPERTIES.items():
+            cls = vars(importlib.import_module("keptparts." + name))[kind]
+            for item in text.split():
+                self.assertIsInstance(vars(cls)[item], property)
+                self.assertEqual(vars(cls)[item].fset is not None, item == "wanted")
+        for (name, kind), values in CLASS_VALUES.items():
+            cls = vars(importlib.import_module("keptparts." + name))[kind]
+            self.assertEqual({item: vars(cls)[item] for item in values}, values)
         heights = importlib.import_module("keptparts.heights")
         self.assertIsInstance(vars(heights.Heights)["level"], classmethod)
         self.assertIsInstance(vars(heights.Heights)["worth_of"], staticmethod)
+        notes = importlib.import_module("keptparts.notes")
+        self.assertEqual(notes.Notes.__slots__, SLOTS["notes", "Notes"])
+        self.assertIsInstance(vars(notes.Notes)["unknown"], classmethod)
+        self.assertIsInstance(vars(notes.Notes)["seen_at"], classmethod)
+
+    def test_modules(self):
+        """Each module of the interface is there, and what other files there are is told in the README."""
+        folder = pathlib.Path(__file__).resolve().parent.parent
+        files = {path.stem for path in (folder / "keptparts").glob("*.py")} - {"__init__"}
+        listed = {name for name in FUNCTIONS} | {name for name, _ in METHODS} | {"errors"}
+        self.assertEqual(len(listed), 49)
+        self.assertTrue(listed <= files)
+        text = (folder / "README.md").read_text()
+        for name in files:
+            self.assertIn("`%s`" % name, text)
+
+    def test_bases(self):
+        threads = importlib.import_module("keptparts.threads")
+        for cls in (threads.Single, threads.EndToEnd, threads.Beside):
+            self.assertEqual(cls.__bases__, (threads.Thread,))
+        markets = importlib.import_module("keptparts.markets")
+        for cls in (markets.Join, markets.Lap):
+            self.assertEqual(cls.__bases__, (markets.Market,))
+        self.assertEqual(importlib.import_module("keptparts.foes").MOST_SETS, 500)
 
     def test_generators(self):
         for name, function in GENERATORS:
