@@ -4,7 +4,7 @@ from keptparts.checks import is_whole, is_within
 from keptparts.covers import demand_of
 from keptparts.cuts import strength
 from keptparts.errors import BadNumber
-from keptparts.notes import check_agrees, check_notes
+from keptparts.notes import check_notes
 from keptparts.sets import set_of
 from keptparts.stocks import any_stock
 from keptparts.waiting import check_count, size_price
@@ -31,7 +31,6 @@ def shows_price(market, number, notes, world, parts, price):
     asked = set_of(market.many, parts)
     check_count("price", price)
     check_notes(market, notes)
-    check_agrees(notes, prices)
     shown = size_price(market, number, notes.after(asked, prices).lows)
     return shown is None or shown >= price
 

@@ -71,8 +71,7 @@ def is_bridge(size, runs, points, chains):
         return False
     if not is_row(chains) or len(chains) != 5:
         return False
-    if not points[0] < points[1] < points[2] < points[3]:
-        return False
+    # Chains lead from left to right, so the points ascend if all five chains are there.
     inner = list(points)
     for chain, ends in zip(chains, chain_ends(points)):
         if not is_chain(size, useful, chain, ends):
@@ -83,7 +82,7 @@ def is_bridge(size, runs, points, chains):
 
 def is_chain(size, runs, chain, ends):
     """Whether the value is a chain of the runs between two different points."""
-    if not is_row(chain) or not chain or not all([is_run(size, run) and tuple(run) in runs for run in chain]):
+    if not is_row(chain) or not all([is_run(size, run) and tuple(run) in runs for run in chain]):
         return False
     starts = [begin for begin, _ in chain]
     goals = [end for _, end in chain]

@@ -149,8 +149,14 @@ def paper_of(market, demand, notes, world, stock, heights):
     check_case(market, wanted, notes, prices, chosen)
     check_fitting(market, wanted, prices, chosen, heights)
     worths = heights.worths(market)
-    return tuple([part for part in market.there() if
-                  (worths[part] < notes.highs[part] if part in chosen else worths[part] > notes.lows[part])])
+    return tuple([part for part in market.there() if is_needed(notes, chosen, worths, part)])
+
+
+def is_needed(notes, chosen, worths, part):
+    """Whether the price of the part must be asked for heights with these worths."""
+    if part in chosen:
+        return worths[part] < notes.highs[part]
+    return worths[part] > notes.lows[part]
 
 
 def check_fitting(market, wanted, prices, chosen, heights):
@@ -162,5 +168,6 @@ def check_fitting(market, wanted, prices, chosen, heights):
                 raise BadHeights(place)
     worths = heights.worths(market)
     for part in market.there():
-        if worths[part] < prices[part] if part in chosen else worths[part] > prices[part]:
+        excess = worths[part] - prices[part]
+        if part in chosen and excess < 0 or part not in chosen and excess > 0:
             raise NotFitting(part)

@@ -58,9 +58,9 @@ def possible_among(market, wanted, notes, stocks):
 
 
 def can_be_taken(market, wanted, chosen, move):
-    """Whether a stock has all outs and none of the ins of a move, and is a stock behind it."""
+    """Whether a stock has all outs of a move, and is a stock behind it; ins that it has already cost nothing more."""
     outs, ins = move
-    if not all([part in chosen for part in outs]) or any([part in chosen for part in ins]):
+    if not all([part in chosen for part in outs]):
         return False
     return is_stock_of(market, wanted, behind(chosen, outs, ins))
 

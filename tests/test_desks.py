@@ -739,6 +739,9 @@ class Wrong(Case):
             faults = [(2, -1, BadNumber, {"name": "number"}), (3, [1, 1], BadSet, {"place": 1}),
                       (3, [2, 1, 0], IsGone, {"part": 0}), (1, Notes.unknown(2, 4), OtherSize, {"size": 2})]
             self.order(lambda *told: Desk(*told[:3], bought=told[3]), (market, notes, 1, [1]), faults)
+            # Also where no verdicts are told, or the desk is short.
+            self.fails(OtherSize, {"size": 12}, Desk, kind(1, [(0, 1)] * 11), Notes.unknown(12, 4), 1)
+            self.fails(OtherSize, {"size": 4}, Desk, market, Notes.unknown(4, 4), 3)
 
     def test_parts(self):
         for kind in (Join, Lap):
@@ -756,6 +759,13 @@ class Wrong(Case):
                 self.fails(IsLost, {"part": 2}, function, 2, *more)
             for part in (0, 3, 4):
                 self.fails(NotLost, {"part": part}, desk.find, part)
+            # True is no part, also if part 1 is bought or lost.
+            one = Desk(kind(1, [(0, 1)] * 3), Notes.unknown(3, 4), 1, bought=[1])
+            for function, more in ((one.ask, (1,)), (one.narrow, (1, 2)), (one.buy, (1,)), (one.lose, ())):
+                self.fails(BadPart, {"part": True}, function, True, *more)
+            one.lose(1)
+            for function, more in ((one.find, ()), (one.lose, ()), (one.verdict, ())):
+                self.fails(BadPart, {"part": True}, function, True, *more)
             self.same((contents(desk), answers(desk)), state)
 
     def test_prices_and_stretches(self):

@@ -117,6 +117,11 @@ class Papers(Case):
         self.same((is_paper(*case, []), lean_paper(*case, [1, 0]), paper_of(*case, Heights([0, 2]))), (True, (), ()))
         told = Told(*case)
         self.same((told.paper, told.fewest, len(told), list(told), told.heights.worth((0, 1))), ((), 0, 0, [], 2))
+        # No unseen part: nothing has to be asked.
+        seen = (market, 1, Notes([(2, 2), (2, 2)]), (2, 2), [1])
+        self.same((is_paper(*seen, ()), lean_paper(*seen, []), Told(*seen).paper, Told(*seen).shows([])),
+                  (True, (), (), True))
+        self.fails(BadPart, {"part": 0}, Told(*seen).shows, [0, 1])
         for kind in (Join, Lap):
             empty = Told(kind(2, []), 0, Notes([]), [], [])
             self.same((empty.paper, empty.stock, empty.world, empty.demand), ((), (), (), (0, 0)))
