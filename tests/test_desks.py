@@ -281,12 +281,14 @@ class Deeds(Walk):
         self.same((join.sure_stock(), join.pay_ends(), join.next_ends()), ((), (0, 0), (0, 1)))
         self.same([join.verdict(0), join.verdict(1), join.regret_of([])], ["out", "out", 0])
         lap = Desk(Lap(2, [(0, 2), (0, 1)]), Notes([(0, 1), (1, 2)]), 0)
-        self.same([lap.verdict(0), lap.verdict(1), lap.pay_ends(), lap.next_ends()], ["unsettled", "out", (0, 0), (0, 1)])
+        self.same([lap.verdict(0), lap.verdict(1), lap.pay_ends(), lap.next_ends()],
+                  ["unsettled", "out", (0, 0), (0, 1)])
         for kind in (Join, Lap):
             empty = Desk(kind(2, []), Notes([]), 0)
             self.same((empty.short, empty.sure_stock(), empty.pay_ends(), empty.next_ends(), empty.losses_left()),
                       (False, (), (0, 0), (None, None), -1))
-            self.same((empty.unsettled(), list(empty), len(empty), 0 in empty, empty.finish(())), ((), [], 0, False, ()))
+            self.same((empty.unsettled(), list(empty), len(empty), 0 in empty, empty.finish(())),
+                      ((), [], 0, False, ()))
             self.same((empty.want(1), empty.short, empty.pay_ends()), ((), True, (None, None)))
             self.same((empty.offer((0, 2), 3, 4), empty.short, empty.verdict(0)), ((), False, "in"))
 

@@ -9,8 +9,8 @@ from keptparts.mending import mend_in_turn, mend_price
 from keptparts.notes import Notes
 from support import (
     NO_INTEGERS, NO_ROWS, Case, agreeing, all_sets, best_price, best_stocks, far, free_world, great_market,
-    great_notes, great_ways, lost_stocks, price, random_cases, random_market, random_notes, random_stock, random_world, stocks,
-    stocks_by_size,
+    great_notes, great_ways, lost_stocks, price, random_cases, random_market, random_notes, random_stock,
+    random_world, stocks, stocks_by_size,
 )
 
 

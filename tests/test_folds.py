@@ -20,8 +20,8 @@ from keptparts.rings import is_ring
 from keptparts.threads import Beside, EndToEnd, Single
 from keptparts.useful import market_runs, useful_runs
 from support import (
-    NO_INTEGERS, NO_ROWS, Case, agreeing, all_sets, best_price, bridged_runs, chain_rows, far, folding_runs, market_over,
-    random_market, random_notes, random_runs, random_world, ring_moves, sorted_pairs, stocks_by_size, threshold,
+    NO_INTEGERS, NO_ROWS, Case, agreeing, all_sets, best_price, bridged_runs, chain_rows, far, folding_runs,
+    market_over, random_market, random_notes, random_runs, random_world, ring_moves, sorted_pairs, stocks_by_size, threshold,
 )
 
 FIVE = [(0, 1), (0, 2), (1, 2), (1, 3), (2, 3)]

@@ -70,7 +70,8 @@ class Listings(Case):
                 self.same(line_of(desk, part), lines[-1])
             low, high = words.pay_ends()
             seen.add((low is None, low == high, bool(words.safe)))
-            lines.append("short" if low is None else "to pay %d" % low if low == high else "to pay %d..%d" % (low, high))
+            ends = "%d" % low if low == high and low is not None else "%s..%s" % (low, high)
+            lines.append("short" if low is None else "to pay " + ends)
             told = listing(desk)
             if words.safe:
                 stock = desk.sure_stock()
@@ -90,7 +91,8 @@ class Listings(Case):
         self.same(listing(lap), "lap of 2, wanted 1, spent 0, deeds 0\n0 0-2 1..4 unsettled\n1 0-2 3 unsettled\n"
                                 "to pay 1..3\nnot sure\n")
         lap.buy(1, 3)
-        self.same(listing(lap), "lap of 2, wanted 1, spent 3, deeds 1\n0 0-2 1..4 out\n1 0-2 0 kept\nto pay 0\nsure 1\n")
+        self.same(listing(lap), "lap of 2, wanted 1, spent 3, deeds 1\n0 0-2 1..4 out\n1 0-2 0 kept\n"
+                                "to pay 0\nsure 1\n")
         lap.back()
         lap.want(2)
         self.same(listing(lap), "lap of 2, wanted 2, spent 0, deeds 1\n0 0-2 1..4 in\n1 0-2 3 in\nto pay 4..7\n"

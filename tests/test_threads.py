@@ -178,7 +178,8 @@ class Costs(Case):
 
     def test_wrong(self):
         market, lap = Join(2, [(0, 1), (1, 2)]), Lap(2, [(0, 1), (1, 2)])
-        for thread in (Single((0, 1)), EndToEnd(Single((0, 1)), Single((1, 2))), Beside(Single((0, 2)), Single((0, 2)))):
+        for thread in (Single((0, 1)), EndToEnd(Single((0, 1)), Single((1, 2))),
+                       Beside(Single((0, 2)), Single((0, 2)))):
             self.fails(NotJoin, {}, thread.costs, lap, None)
             self.fails(NotJoin, {}, thread.length_in, lap)
             self.fails(BadWorld, {"place": -1}, thread.costs, market, (1,))
