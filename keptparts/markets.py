@@ -73,7 +73,8 @@ class Join(Market):
         return Join(self.size, self.runs + (check_run(self, run),), gone=self.gone)
 
     def __sub__(self, other):
-        return self.lose(other)
+        # No call of lose: by its name alone it could be that of a desk, which changes the desk.
+        return Join(self.size, self.runs, gone=gone_after(self, other))
 
     def __add__(self, other):
         size, runs, gone = end_to_end_shape(self, other)
@@ -112,7 +113,8 @@ class Lap(Market):
         return Lap(self.size, self.runs + (check_run(self, run),), gone=self.gone)
 
     def __sub__(self, other):
-        return self.lose(other)
+        # No call of lose: by its name alone it could be that of a desk, which changes the desk.
+        return Lap(self.size, self.runs, gone=gone_after(self, other))
 
     def __add__(self, other):
         size, runs, gone = end_to_end_shape(self, other)

@@ -59,6 +59,44 @@ def own_names():
     return names
 
 
+def names_called(function):
+    """The names that a function calls, bare ones and those of methods."""
+    calls = [node.func for node in ast.walk(function) if isinstance(node, ast.Call)]
+    return {node.id if isinstance(node, ast.Name) else getattr(node, "attr", "") for node in calls}
+
+
+def stores_in_objects(function):
+    """Whether a function assigns or deletes an attribute, or an item of an attribute."""
+    for node in ast.walk(function):
+        if isinstance(node, ast.Attribute) and not isinstance(node.ctx, ast.Load):
+            return True
+        if isinstance(node, ast.Subscript) and isinstance(node.value, ast.Attribute):
+            if not isinstance(node.ctx, ast.Load):
+                return True
+    return False
+
+
+def changing_names():
+    """The names of all functions and methods that change an object, by themselves or by what they call.
+
+    A method counts by its name, whatever class the object has. What an __init__ gives its own object is no change.
+    """
+    found = [function for _, tree in trees() for function in functions(tree) if function.name != "__init__"]
+    names = {function.name for function in found if stores_in_objects(function)}
+    size = -1
+    while size < len(names):
+        size = len(names)
+        names |= {function.name for function in found if names_called(function) & names}
+    return names
+
+
+def is_reading(function):
+    """Whether a function is an operator, a property or one of their kind, none of which changes anything."""
+    marks = [ast.unparse(decorator) for decorator in function.decorator_list]
+    special = function.name in DUNDERS - {"__init__", "__enter__", "__exit__", "__call__"}
+    return special or "property" in marks
+
+
 class Form(unittest.TestCase):
     def test_files(self):
         for path in PACKAGE.iterdir():
@@ -249,6 +287,19 @@ class Form(unittest.TestCase):
             for function in functions(tree):
                 if "property" in [ast.unparse(decorator) for decorator in function.decorator_list]:
                     self.assertFalse([node for node in ast.walk(function) if isinstance(node, (ast.Assign, ast.For))])
+
+    def test_operators_change_nothing(self):
+        """No operator, property or the like calls what counts as changing an object, through what it calls neither."""
+        changing = changing_names()
+        self.assertTrue({"lose", "find", "buy", "back", "_take"} <= changing)
+        found = 0
+        for name, tree in trees():
+            for function in functions(tree):
+                if is_reading(function):
+                    found += 1
+                    self.assertFalse(stores_in_objects(function), (name, function.lineno))
+                    self.assertEqual(names_called(function) & changing, set(), (name, function.lineno))
+        self.assertGreater(found, 30)
 
     def test_words(self):
         for path in files():

@@ -173,6 +173,36 @@ class Changing(Case):
             self.same((market - [0]) - [2, 0] == market - [0, 2], True)
             self.same(market.gone, (1,))
 
+    def test_less_and_lose(self):
+        """P - parts answers as P.lose(parts) does, and leaves the market as it was."""
+        rows = (
+            ([0, 3], (0, 1, 3)), ((3, 0), (0, 1, 3)), ([2], (1, 2)), ([1], (1,)), ((2, 1), (1, 2)), ([], (1,)), ((), (1,)),
+            ([3, 2, 1, 0], (0, 1, 2, 3)),
+        )
+        for kind in (Join, Lap):
+            market = kind(3, self.runs, gone=[1])
+            for parts, gone in rows:
+                told = list(parts)
+                for less in (market - parts, market.lose(parts)):
+                    self.assertIs(type(less), kind)
+                    self.assertIsNot(less, market)
+                    self.same((less.size, less.runs, less.gone), (3, tuple(self.runs), gone))
+                self.same(market - parts == market.lose(parts), True)
+                self.same(list(parts), told)
+                self.same((market.size, market.runs, market.gone), (3, tuple(self.runs), (1,)))
+            self.same((kind(2, []) - []).gone, ())
+
+    def test_less_and_lose_fail_alike(self):
+        rows = [(parts, -1) for parts in NO_ROWS] + [([part], 0) for part in NO_INTEGERS + (-1, 4)]
+        rows += [([1, 0, part, -1], 2) for part in NO_INTEGERS + (-1, 4)] + [((1, 1), 1), ([0, 3, 2, 3], 3)]
+        for kind in (Join, Lap):
+            market = kind(3, self.runs, gone=[1])
+            for parts, place in rows:
+                self.fails(BadSet, {"place": place}, lambda: market - parts)
+                self.fails(BadSet, {"place": place}, market.lose, parts)
+            self.same((market.size, market.runs, market.gone), (3, tuple(self.runs), (1,)))
+            self.fails(BadSet, {"place": 0}, lambda: kind(2, []) - [0])
+
     def test_keep(self):
         for kind in (Join, Lap):
             market = kind(3, self.runs, gone=[1])
